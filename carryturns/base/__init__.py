@@ -1,0 +1,1 @@
+"""Integers and rows of residues."""
