@@ -1,7 +1,11 @@
 """What several tests share: values of all kinds, raised errors, and the examples of the document."""
 
+import re
+
 import carryturns.errors as errors
+from carryturns.character.characters import Character
 from carryturns.field.fields import Field
+from carryturns.turn.turns import Turn
 
 
 def nested(kind, deep):
@@ -23,6 +27,8 @@ def all_kinds():
         nested(tuple, 8), nested(list, 8), {1: {2: {3: {4: {5: {6: {7: {}}}}}}}},
         Field(7), Field(3, 2), errors.TurnError("text"), errors.ParseError(0), errors.InvalidCount(1),
         errors.UnknownName("a"), errors.NothingToUndo(1), errors.TooMany(60), errors.Refused(("a", 1)),
+        Turn(1, (0,)), Turn(1, (1,)), Turn(2, (1,)), Turn(3, (-1, -3)), Turn(5, (1, 2, 0, -1)),
+        Turn(3, (10 ** 50, 1)).raised(3), (Turn(3, (1, 0)),), Character(Field(7), 3, 1), Character(Field(3, 2), 4, 0),
     ]
 
 
@@ -82,6 +88,14 @@ def examples_in(text):
     return found
 
 
+def check_raised(case, error, told):
+    """Check that an error is of the told name, and that it keeps what is told in parentheses."""
+    name, kept = re.fullmatch(r"(\w+)(?:\((.*)\))?", told).groups()
+    case.assertIs(type(error), getattr(errors, name))
+    if kept is not None:
+        case.assertEqual(getattr(error, KEPT[type(error)]), eval(kept))
+
+
 def check_examples(case, text, names):
     """Run the examples of a section, word for word."""
     names = dict(names)
@@ -90,9 +104,7 @@ def check_examples(case, text, names):
             if told is None:
                 exec(row, names)
             elif told.startswith("raises "):
-                error = raised_by(eval, row, names)
-                case.assertEqual(type(error).__name__, told[7:])
-                case.assertIs(type(error), getattr(errors, told[7:]))
+                check_raised(case, raised_by(eval, row, names), told[7:])
             else:
                 value = eval(row, names)
                 case.assertEqual(value, eval(told, names))

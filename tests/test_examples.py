@@ -1,10 +1,15 @@
 """The examples of the document, word for word."""
 
+import os
 import unittest
 
 import carryturns.base.numbers as numbers
 import carryturns.base.residues as residues
+import carryturns.character.characters as characters
 import carryturns.field.fields as fields
+import carryturns.table.tables as tables
+import carryturns.total.totals as totals
+import carryturns.turn.turns as turns
 from tests.support import check_examples, examples_in
 
 FIELDS = """
@@ -56,6 +61,64 @@ raises InvalidOperation
 raises InvalidOrder
 """
 
+TURN = """
+>>> [cyclotomic(1), cyclotomic(12), cyclotomic(15)]
+[(-1, 1), (1, 0, -1, 0, 1), (1, -1, 0, 1, -1, 1, 0, -1, 1)]
+>>> one, other = Turn(5, (1, 2, 0, -1)), Turn(5, (0, 1, 1, 0))
+>>> [str(one), str(other), one.times(other).entries, one.turned(2).entries, one.mirrored().entries, one.norm(), one.trace(), other.is_unit()]
+['1+2z-z^3 order 5', 'z+z^2 order 5', (0, 2, 4, 3), (1, -1, 2, 0), (-1, -2, -3, -2), 11, 3, True]
+>>> [str(one.times(other).divided(other)), one.divided(Turn.whole(5, 2)), str(Turn.power(12, 7)), str(Turn(3, (2, -1)).lifted(12)), Turn(12, (3, 0, -1, 0)).lowered(3).entries, Turn.power(12, 1).lowered(3)]
+['1+2z-z^3 order 5', None, '-z order 12', '3-z^2 order 12', (2, -1), None]
+>>> [Turn.read("-2z+z^2 order 5").entries, Turn.read("0 order 2").is_zero, Turn(9, (3, 0, 0, 9, 0, 0)).content(3), Turn(9, (1, -1, 0, 0, 0, 0)).norm(), Turn(1, (-4,)).norm()]
+[(0, -2, 1, 0), True, 1, 3, -4]
+>>> Turn.read("1z order 5")
+raises ParseError(0)
+"""
+
+CHARACTER = """
+>>> one = Character(SEVEN, 3, 1)
+>>> [one.value_at(3).entries, one.value_at(2).entries, one.value_at(6).entries, one.value_at(0).entries, one.sign, one.exact, str(one)]
+[(0, 1), (-1, -1), (1, 0), (0, 0), 1, 3, 'character 1 of order 3 over 7']
+>>> [one.times(one).number, one.raised(-1) == one.opposite(), one.widened(6).number, total_of(one).entries, total_of(Character(SEVEN, 3, 0)).entries, Character(NINE, 8, 1).sign, Character(SEVEN, 2, 1).sign]
+[2, True, 2, (0, 0), (6, 0), -1, -1]
+>>> [count_roots(SEVEN, 3, 6), count_roots(SEVEN, 3, 2), count_roots(SEVEN, 9, 1), count_roots(SEVEN, 4, 0), len(characters(NINE, 8))]
+[3, 0, 3, 1, 8]
+>>> told = class_sums(3, (2, -1, 0))
+>>> [told[0].entries, told[1].entries, told[2].entries, class_values(3, told)]
+[(1, 0), (3, 1), (2, -1), (2, -1, 0)]
+>>> Character(SEVEN, 4, 1)
+raises InvalidOrder
+"""
+
+TABLE = """
+>>> [class_table(SEVEN, 3), class_table(SEVEN, 2), class_table(Field(2), 1), class_table(NINE, 4)]
+[((0, 0, 1), (0, 1, 1), (1, 1, 0)), ((1, 2), (1, 1)), ((0,),), ((1, 0, 0, 0), (0, 0, 1, 1), (0, 1, 0, 1), (0, 1, 1, 0))]
+>>> [class_table(THIRTEEN, 4), class_table(SIXTEEN, 3), class_table(THIRTEEN, 3)]
+[((0, 1, 2, 0), (1, 1, 0, 1), (0, 1, 0, 1), (1, 0, 1, 1)), ((0, 2, 2), (2, 2, 1), (2, 1, 2)), ((0, 1, 2), (1, 2, 1), (2, 1, 1))]
+>>> turned = turned_table(class_table(SEVEN, 3), 2)
+>>> [turned, turning_unit(SEVEN, 3, turned), is_table_of(SEVEN, 3, turned), turning_unit(NINE, 4, class_table(NINE, 4)), turning_unit(SEVEN, 3, ((0, 0, 0),))]
+[((0, 1, 0), (1, 0, 1), (0, 1, 1)), 2, False, 1, None]
+>>> [lesser_table(class_table(THIRTEEN, 4), 2), class_table(THIRTEEN, 2), pairs_adding(SEVEN, 3, 0, 0), pairs_adding(THIRTEEN, 4, 1, 3), sums_hold(SEVEN, 3, turned), rules_hold(SEVEN, 3, turned)]
+[((2, 3), (3, 3)), ((2, 3), (3, 3)), 0, 1, True, True]
+>>> [orbits(SEVEN, 3), len(orbits(SIXTEEN, 5))]
+[(((0, 0),), ((0, 1), (1, 0), (2, 2)), ((0, 2), (1, 1), (2, 0)), ((1, 2), (2, 1))), 3]
+>>> class_table(SEVEN, 4)
+raises InvalidOrder
+"""
+
+TOTAL = """
+>>> [jacobi(SEVEN, 3, (1, 1)).entries, jacobi(SEVEN, 3, (1, 2)).entries, jacobi(SEVEN, 3, (0, 1)).entries, jacobi(SEVEN, 3, (0, 0)).entries]
+[(-1, -3), (-1, 0), (-1, 0), (5, 0)]
+>>> [jacobi(SEVEN, 3, (1, 1, 1)).entries, jacobi(SEVEN, 3, (1, 2, 1)).entries, jacobi(SEVEN, 3, (0, 0, 0)).entries, jacobi(THIRTEEN, 4, (1, 1)).entries, jacobi(THIRTEEN, 4, (1, 2)).entries, jacobi(NINE, 4, (1, 1)).entries]
+[(1, 3), (7, 0), (31, 0), (3, -2), (-3, 2), (3, 0)]
+>>> [jacobi_split(SEVEN, 3, (1, 1, 1)), jacobi_split(SEVEN, 3, (1, 0, 2, 1)), jacobi_split(THIRTEEN, 4, (1, 1, 1, 3)), jacobi_split(SEVEN, 3, (0, 0, 0))]
+[(-1, ((1, 1),)), (-7, ()), (1, ((1, 1), (2, 1), (3, 3))), (31, ())]
+>>> [split_value(SEVEN, 3, (-1, ((1, 1),))).entries, is_jacobi(SEVEN, 3, (1, 1), jacobi(SEVEN, 3, (2, 2))), table_by_totals(SEVEN, 3, all_totals(SEVEN, 3))]
+[(1, 3), False, ((0, 0, 1), (0, 1, 1), (1, 1, 0))]
+>>> jacobi(SEVEN, 3, (1, 3))
+raises InvalidCharacter
+"""
+
 
 def example_fields():
     """The names of the fields that the examples use."""
@@ -76,6 +139,28 @@ class Examples(unittest.TestCase):
     def test_fields(self):
         self.assertEqual(len(examples_in(FIELD)), 6)
         check_examples(self, FIELD, {**vars(fields), **example_fields()})
+
+    def test_turns(self):
+        self.assertEqual(len(examples_in(TURN)), 6)
+        check_examples(self, TURN, vars(turns))
+
+    def test_characters(self):
+        self.assertEqual(len(examples_in(CHARACTER)), 7)
+        check_examples(self, CHARACTER, {**vars(characters), **example_fields()})
+
+    def test_tables(self):
+        self.assertEqual(len(examples_in(TABLE)), 7)
+        check_examples(self, TABLE, {**vars(tables), **example_fields()})
+
+    def test_totals(self):
+        self.assertEqual(len(examples_in(TOTAL)), 5)
+        check_examples(self, TOTAL, {**vars(totals), **example_fields()})
+
+    def test_readme(self):
+        with open(os.path.join(os.path.dirname(os.path.dirname(os.path.abspath(__file__))), "README.md")) as file:
+            text = file.read()
+        self.assertTrue(len(examples_in(text)) > 5)
+        check_examples(self, text, {})
 
     def test_told_generators(self):
         names = example_fields()

@@ -5,12 +5,20 @@ import unittest
 
 import carryturns.base.numbers as numbers
 import carryturns.base.residues as residues
+import carryturns.character.characters as characters
 import carryturns.field.fields as fields
+import carryturns.table.tables as tables
+import carryturns.total.totals as totals
+import carryturns.turn.turns as turns
 
 CONSTANTS = (
     (numbers, {"MAX_NAME": 8, "MAX_FACTORED": 10 ** 9, "MAX_MODULUS": 10000, "MAX_BASE": 1000}),
     (residues, {"MAX_RESIDUE_PRIME": 1000, "MAX_DEGREE": 60, "MAX_SEARCHED": 10 ** 6}),
     (fields, {"MAX_SIZE": 512, "MAX_CLASSES": 24}),
+    (turns, {"MAX_ORDER": 60, "MAX_POWER": 60}),
+    (characters, {"MAX_ORDER": 24}),
+    (tables, {"MAX_JUDGED": 24}),
+    (totals, {"MAX_TERMS": 6}),
 )
 
 FUNCTIONS = (
@@ -27,18 +35,44 @@ FUNCTIONS = (
         row_factors(prime,row) count_irreducible(prime,degree) row_roots(prime,row)
     """),
     (fields, "is_field_size(value) opposite_class(field,order)"),
+    (turns, "cyclotomic(order)"),
+    (characters, """
+        characters(field,order) total_of(character) count_roots(field,exponent,element)
+        class_sums(order,values) class_values(order,sums)
+    """),
+    (tables, """
+        class_table(field,order) orbits(field,order) turned_table(table,unit) lesser_table(table,order)
+        is_table_of(field,order,value) turning_unit(field,order,value) sums_hold(field,order,table)
+        rules_hold(field,order,table) pairs_adding(field,order,one,other)
+    """),
+    (totals, """
+        jacobi(field,order,indices) is_jacobi(field,order,indices,value) jacobi_split(field,order,indices)
+        split_value(field,order,split) all_totals(field,order) totals_by_table(field,order,table)
+        table_by_totals(field,order,totals) are_totals(field,order,value)
+    """),
 )
 
-METHODS = """
-    __init__(self,prime,degree=1) plus(self,one,other) minus(self,one,other) times(self,one,other)
-    over(self,one,other) opposite(self,element) raised(self,element,many) log_of(self,element)
-    power_of(self,many) trace_of(self,element) norm_of(self,element) class_of(self,element,order)
-    elements_of(self,order,number) lesser(self,degree)
-"""
+SEVEN = fields.Field(7)
 
-SIGNED = ("__contains__", "__len__", "__iter__", "__eq__", "__str__")
-
-PROPERTIES = ("prime", "degree", "size", "generator", "poly", "orders")
+# Each class with its file, an object, its methods with their parameters, its class methods, what it has for the
+# signs of Python, and its properties.
+CLASSES = (
+    (fields.Field, fields, SEVEN, """
+        __init__(self,prime,degree=1) plus(self,one,other) minus(self,one,other) times(self,one,other)
+        over(self,one,other) opposite(self,element) raised(self,element,many) log_of(self,element)
+        power_of(self,many) trace_of(self,element) norm_of(self,element) class_of(self,element,order)
+        elements_of(self,order,number) lesser(self,degree)
+     """, "", "__contains__ __len__ __iter__ __eq__ __str__", "prime degree size generator poly orders"),
+    (turns.Turn, turns, turns.Turn(3, (1, 2)), """
+        __init__(self,order,entries) plus(self,other) minus(self,other) times(self,other) scaled(self,number)
+        opposite(self) raised(self,many) turned(self,unit) mirrored(self) norm(self) trace(self) is_unit(self)
+        divided(self,other) content(self,prime) lifted(self,order) lowered(self,order)
+     """, "power(order,many) whole(order,integer) read(text)", "__eq__ __str__", "order entries is_zero"),
+    (characters.Character, characters, characters.Character(SEVEN, 3, 1), """
+        __init__(self,field,order,index) value_at(self,element) times(self,other) raised(self,many)
+        opposite(self) widened(self,order)
+     """, "", "__eq__ __str__", "field order number exact is_trivial sign"),
+)
 
 
 def signature_of(name, function):
@@ -57,21 +91,42 @@ class Interface(unittest.TestCase):
             for signature in told.split():
                 name = signature.split("(")[0]
                 function = vars(module)[name]
-                self.assertTrue(inspect.isfunction(function), name)
+                self.assertTrue(inspect.isfunction(function) or inspect.isgeneratorfunction(function), name)
                 self.assertEqual(function.__module__, module.__name__, name)
                 self.assertEqual(signature_of(name, function), signature)
 
-    def test_methods_stand_in_the_class(self):
-        self.assertEqual(fields.Field.__module__, "carryturns.field.fields")
-        for signature in METHODS.split():
-            name = signature.split("(")[0]
-            self.assertEqual(signature_of(name, vars(fields.Field)[name]), signature)
-        for name in SIGNED + PROPERTIES:
-            self.assertIn(name, vars(fields.Field))
+    def test_methods_stand_in_their_classes(self):
+        for kind, module, _, methods, class_methods, signs, properties in CLASSES:
+            self.assertEqual(kind.__module__, module.__name__)
+            self.assertIs(vars(module)[kind.__name__], kind)
+            for signature in methods.split():
+                name = signature.split("(")[0]
+                self.assertEqual(signature_of(name, vars(kind)[name]), signature)
+            for signature in class_methods.split():
+                name = signature.split("(")[0]
+                self.assertIsInstance(vars(kind)[name], classmethod)
+                self.assertEqual(signature_of(name, getattr(kind, name)), signature)
+            for name in signs.split():
+                self.assertIn(name, vars(kind))
+            for name in properties.split():
+                self.assertIsInstance(vars(kind)[name], property)
 
-    def test_properties_are_set_from_the_start(self):
-        for name in PROPERTIES:
+    def test_properties_are_set_from_the_start_and_stay(self):
+        for kind, _, told, _, _, _, properties in CLASSES:
+            for name in properties.split():
+                value = getattr(told, name)
+                with self.assertRaises(AttributeError):
+                    setattr(told, name, value)
+                self.assertEqual(getattr(told, name), value)
+        for name in "prime degree size generator poly orders".split():
             self.assertTrue(hasattr(fields.Field(2), name))
+
+    def test_only_fields_are_iterated_over(self):
+        for kind, _, told, _, _, signs, _ in CLASSES:
+            if "__iter__" not in signs:
+                self.assertRaises(TypeError, iter, told)
+            if "__len__" not in signs:
+                self.assertRaises(TypeError, len, told)
 
 
 if __name__ == "__main__":

@@ -3,6 +3,7 @@
 import ast
 import builtins
 import os
+import re
 import unittest
 
 ROOT = os.path.dirname(os.path.dirname(os.path.abspath(__file__)))
@@ -15,7 +16,7 @@ NODES = (
     ast.Tuple, ast.List, ast.Dict, ast.ListComp, ast.DictComp, ast.comprehension, ast.IfExp, ast.Starred,
     ast.BoolOp, ast.And, ast.Or, ast.UnaryOp, ast.Not, ast.USub, ast.BinOp, ast.Add, ast.Sub, ast.Mult,
     ast.FloorDiv, ast.Mod, ast.Pow, ast.Compare, ast.Eq, ast.NotEq, ast.Lt, ast.LtE, ast.Gt, ast.GtE, ast.In,
-    ast.NotIn, ast.Is, ast.IsNot, ast.JoinedStr, ast.FormattedValue,
+    ast.NotIn, ast.Is, ast.IsNot, ast.JoinedStr, ast.FormattedValue, ast.Yield,
 )
 BUILTINS = set(
     "len range enumerate zip min max sum abs sorted reversed int str bool list tuple dict isinstance ord repr any all"
@@ -24,7 +25,7 @@ BUILTINS = set(
 )
 METHODS = set(
     "append clear copy count endswith extend find get index insert items join keys pop remove replace reverse"
-    " setdefault split startswith strip update values".split()
+    " setdefault split startswith strip update values partition removeprefix".split()
 )
 DOUBLE = set("__init__ __eq__ __repr__ __str__ __len__ __enter__ __exit__ __iter__ __contains__".split())
 NOWHERE = set("register mro elements open input law version_info with_traceback add_note type".split())
@@ -165,6 +166,124 @@ class Language(unittest.TestCase):
         for module, node in self.nodes(ast.Call):
             if isinstance(node.func, ast.Attribute):
                 self.assertIn(node.func.attr, own | METHODS, (module, node.lineno))
+
+    def methods_with(self, decorator):
+        """The names of the methods under a decorator, or of those without one."""
+        found = set()
+        for _, tree in self.nodes(ast.ClassDef):
+            for node in tree.body:
+                if isinstance(node, ast.FunctionDef) and not node.name.startswith("__"):
+                    names = [name.id for name in node.decorator_list]
+                    if names == ([decorator] if decorator else []):
+                        found.add(node.name)
+        return found
+
+    def stored_attributes(self):
+        """The names of all attributes that are assigned."""
+        return {node.attr for _, node in self.nodes(ast.Attribute) if isinstance(node.ctx, ast.Store)}
+
+    def test_names_of_properties_and_methods(self):
+        plain, stored = self.methods_with(None), self.stored_attributes()
+        properties, of_class = self.methods_with("property"), self.methods_with("classmethod")
+        self.assertFalse(properties & plain)
+        self.assertFalse(properties & stored)
+        self.assertFalse(plain & stored)
+        self.assertFalse(of_class & (plain | properties | stored))
+        for kind in (str, int, list, dict, set, bytes, tuple):
+            self.assertFalse(properties & set(dir(kind)), kind)
+            self.assertFalse(of_class & set(dir(kind)), kind)
+        read = {node.attr for _, node in self.nodes(ast.Attribute) if isinstance(node.ctx, ast.Load)}
+        self.assertEqual(read - plain - stored - properties - of_class - METHODS, set())
+
+    def test_attributes_are_assigned_through_local_names(self):
+        for module, node in self.nodes(ast.Attribute):
+            if isinstance(node.ctx, ast.Store):
+                self.assertIsInstance(node.value, ast.Name, module)
+                self.assertNotIn(node.value.id, self.own[module])
+
+    def test_properties_change_nothing(self):
+        for module, tree in self.nodes(ast.FunctionDef):
+            if [name.id for name in tree.decorator_list] == ["property"]:
+                self.assertEqual(len(tree.args.args), 1)
+                for node in ast.walk(tree):
+                    self.assertNotIsInstance(node, (ast.Assign, ast.AugAssign, ast.For, ast.While), module)
+
+    def test_decorators(self):
+        for module, tree in self.nodes(ast.FunctionDef, ast.ClassDef):
+            for node in tree.decorator_list:
+                self.assertIn(node.id, ("property", "classmethod"), module)
+                self.assertIsInstance(tree, ast.FunctionDef)
+
+    def test_double_underscore_methods(self):
+        for module, tree in self.nodes(ast.FunctionDef):
+            returns = [node.value for node in ast.walk(tree) if isinstance(node, ast.Return)]
+            if tree.name == "__init__":
+                self.assertEqual(returns, [], module)
+            if tree.name == "__len__":
+                self.assertTrue(all(isinstance(value, ast.Call) and value.func.id == "len" for value in returns), module)
+            if tree.name == "__str__":
+                self.assertTrue(all(isinstance(value, ast.JoinedStr) for value in returns), module)
+            if tree.name == "__iter__":
+                self.assertTrue(all(isinstance(value, ast.Call) and value.func.id == "iter" for value in returns), module)
+            if tree.name in ("__len__", "__str__", "__eq__", "__contains__"):
+                for node in ast.walk(tree):
+                    self.assertNotIsInstance(node, (ast.Assign, ast.AugAssign, ast.For, ast.While), module)
+
+    def test_generators_are_iterated_at_once(self):
+        names = {
+            tree.name for _, tree in self.nodes(ast.FunctionDef)
+            if any(isinstance(node, ast.Yield) for node in ast.walk(tree))
+        }
+        counts = [tree.name for _, tree in self.nodes(ast.FunctionDef) if tree.name in names]
+        self.assertEqual(len(counts), len(names))
+        right = set()
+        for _, node in self.nodes(ast.For, ast.comprehension):
+            right.add(node.iter)
+        for _, node in self.nodes(ast.Call):
+            if isinstance(node.func, ast.Name) and node.func.id in ("list", "tuple", "sum", "any", "all", "sorted"):
+                right.update(node.args[:1])
+        for module, node in self.nodes(ast.Call):
+            called = getattr(node.func, "id", None) or getattr(node.func, "attr", None)
+            if called in names:
+                self.assertIn(node, right, (module, node.lineno))
+                for given in node.args:
+                    self.assertIsInstance(given, (ast.Name, ast.Constant, ast.Attribute), (module, node.lineno))
+
+    def test_views_are_iterated_at_once(self):
+        kinds = ("range", "zip", "enumerate", "reversed")
+        right = set()
+        for _, node in self.nodes(ast.For, ast.comprehension):
+            right.add(node.iter)
+        for _, node in self.nodes(ast.Call):
+            if isinstance(node.func, ast.Name) and node.func.id in ("list", "tuple", "dict", "sorted", "reversed", "sum"):
+                right.update(node.args[:1])
+        for module, node in self.nodes(ast.Call):
+            if isinstance(node.func, ast.Name) and node.func.id in kinds:
+                self.assertIn(node, right, (module, node.lineno))
+
+    def test_words_that_do_not_occur(self):
+        words = set(
+            "type typing typing_extensions enum Enum IntEnum StrEnum Flag IntFlag Generic Protocol ABC ABCMeta namedtuple"
+            " NamedTuple TypedDict TYPE_CHECKING abstractmethod".split()
+        )
+        for module, text in self.texts.items():
+            for row in text.split("\n"):
+                self.assertFalse(words & set(re.findall(r"\w+", row)), (module, row))
+            for word in ("dataclass", "overload", "contextmanager", "_wall", "_WallAttr"):
+                self.assertNotIn(word, text, module)
+
+    def test_what_is_iterated_over_is_not_modified(self):
+        changing = ("append", "clear", "extend", "insert", "pop", "remove", "reverse", "setdefault", "update")
+        for module, loop in self.nodes(ast.For):
+            over = {node.id for node in ast.walk(loop.iter) if isinstance(node, ast.Name)}
+            if isinstance(loop.iter, ast.Call) and getattr(loop.iter.func, "id", None) in ("range", "reversed", "list"):
+                # What stands in a range, or in a copy, is not iterated over.
+                over = set()
+            for node in [found for row in loop.body for found in ast.walk(row)]:
+                if isinstance(node, ast.Call) and isinstance(node.func, ast.Attribute) and node.func.attr in changing:
+                    self.assertNotIn(getattr(node.func.value, "id", None), over, (module, node.lineno))
+                if isinstance(node, ast.Subscript) and isinstance(node.ctx, ast.Store):
+                    self.assertNotIn(getattr(node.value, "id", None), over, (module, node.lineno))
 
     def test_numbers_and_strings(self):
         for module, node in self.nodes(ast.BinOp):

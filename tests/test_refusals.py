@@ -1,42 +1,18 @@
 """Wrong arguments: each error of each call, what it keeps, and which one is first ([0.1], [0.4], [0.7])."""
 
-import itertools
 import unittest
 
 import carryturns.base.numbers as numbers
 import carryturns.base.residues as residues
 import carryturns.errors as errors
 import carryturns.field.fields as fields
-from tests.support import all_kinds, assert_raises, plain_integer, raised_by, short_integer
+from tests.kinds import (
+    A_FIELD, ANY, LONG, NATURAL, POSITIVE, Kind, Refusals, elements, orders_of, prime_to, within,
+)
+from tests.support import all_kinds, assert_raises, plain_integer, short_integer
 
-LONG = 10 ** 60
 FIELD = fields.Field(13)
 NINE = fields.Field(3, 2)
-
-
-class Kind:
-    """What a parameter takes: its error, and which values are right."""
-
-    def __init__(self, error, is_right, wrong, keeps=False):
-        self.error = error
-        self.is_right = is_right
-        self.keeps = keeps
-        self.wrong = [value for value in all_kinds() + wrong if not is_right(value)]
-
-
-def within(low, high):
-    """Integers within bounds."""
-    def is_right(value):
-        return short_integer(value) and low <= value <= high
-    edges = [low - 1] + ([high + 1] if high < LONG else [])
-    return Kind(errors.InvalidCount, is_right, edges, True)
-
-
-def prime_to(high, wrong):
-    """Prime numbers up to a bound."""
-    def is_right(value):
-        return plain_integer(value) and 2 <= value <= high and all(value % low for low in range(2, value))
-    return Kind(errors.InvalidPrime, is_right, wrong)
 
 
 def rows_of(prime):
@@ -47,26 +23,9 @@ def rows_of(prime):
             and all(plain_integer(entry) and 0 <= entry < prime for entry in value)
         )
     wrong = [(1, 0), (0, 0), (prime,), (1, prime), (-1, 1), (1,) * 62, (0,) * 61 + (1,), [1], [], "1", ("1",)]
-    return Kind(errors.InvalidPolynomial, is_right, wrong)
+    return Kind(errors.InvalidPolynomial, is_right, wrong, hangs=True)
 
 
-def elements(size, zero=True):
-    """Elements of a field."""
-    def is_right(value):
-        return plain_integer(value) and (0 if zero else 1) <= value < size
-    return Kind(errors.InvalidElement, is_right, [size, -1, 0])
-
-
-def orders_of(size):
-    """Orders of a field."""
-    def is_right(value):
-        return plain_integer(value) and 1 <= value <= 24 and (size - 1) % value == 0
-    return Kind(errors.InvalidOrder, is_right, [0, 5, 24, 25, -1, size - 1])
-
-
-ANY = within(-LONG + 1, LONG - 1)
-NATURAL = within(0, LONG - 1)
-POSITIVE = within(1, LONG - 1)
 MODULUS = within(1, 10000)
 BASE = within(2, 1000)
 PRIME = prime_to(997, [0, 1, 4, 9, 991 * 2, 999, 1000, 1009, 10 ** 9 + 7])
@@ -77,9 +36,6 @@ TUPLE = Kind(
     [(1, True), (1, "2"), (1, LONG), (False,), [1, 2], (1, (2,)), 12, "12", {1: 2}, None],
 )
 ROW = rows_of(5)
-A_FIELD = Kind(
-    errors.InvalidField, lambda value: isinstance(value, fields.Field), [13, "field of 13", (13, 1), fields.Field],
-)
 EXPONENT = within(1, 12)
 DEGREE = within(1, 9)
 ORDER = orders_of(13)
@@ -227,65 +183,16 @@ RIGHT = (
 )
 
 
-class Refusals(unittest.TestCase):
-    def check(self, call, given, kind, kept):
-        if kind is None:
-            self.assertIsNone(raised_by(call, *given))
-        else:
-            assert_raises(self, kind, kept, call, *given)
-
-    def test_one_wrong_argument(self):
-        for call, parameters in CALLS:
-            right = [value for _, value in parameters]
-            self.assertIsNone(raised_by(call, *right), (call, right))
-            for at, (kind, _) in enumerate(parameters):
-                for value in kind.wrong if kind else []:
-                    given = right[:at] + [value] + right[at + 1:]
-                    self.check(call, given, kind.error, value)
-
-    def test_two_wrong_arguments(self):
-        for call, parameters in CALLS:
-            right = [value for _, value in parameters]
-            told = [at for at, (kind, _) in enumerate(parameters) if kind]
-            for at, to in itertools.combinations(told, 2):
-                one, other = parameters[at][0], parameters[to][0]
-                for first in one.wrong[::4]:
-                    for second in other.wrong[::4]:
-                        given = list(right)
-                        given[at], given[to] = first, second
-                        self.check(call, given, one.error, first)
-
-    def test_errors_behind_the_others(self):
-        for call, given, kind, kept in THEN:
-            self.check(call, given, kind, kept)
-
-    def test_a_wrong_argument_is_ahead_of_the_errors_behind(self):
-        told = {call: parameters for call, parameters in CALLS}
-        for call, given, _, _ in THEN:
-            for at, (kind, _) in enumerate(told[call]):
-                # A row can be a row of one prime, and none of another one.
-                values = [[1]] if kind.error is errors.InvalidPolynomial else kind.wrong
-                for value in values:
-                    wrong = list(given[:at]) + [value] + list(given[at + 1:])
-                    self.check(call, wrong, kind.error, value)
-
-    def test_sequences(self):
-        for call, given, kind, kept in SEQUENCES:
-            self.check(call, given, kind, kept)
-
-    def test_what_is_just_right(self):
-        for call, given in RIGHT:
-            self.assertIsNone(raised_by(call, *given), (call, given))
+class FirstStages(Refusals, unittest.TestCase):
+    CALLS = CALLS
+    THEN = THEN
+    SEQUENCES = SEQUENCES
+    RIGHT = RIGHT
 
     def test_any_value_is_judged_under_a_right_prime(self):
         for value in all_kinds():
             self.assertIn(residues.is_residue_row(5, value), (True, False))
             assert_raises(self, errors.InvalidPrime, None, residues.is_residue_row, 6, value)
-
-    def test_equal_calls_have_equal_results(self):
-        for call, parameters in CALLS:
-            right = [value for _, value in parameters]
-            self.assertEqual(call(*right), call(*right))
 
 
 if __name__ == "__main__":

@@ -4,7 +4,7 @@ from carryturns.base.numbers import (
     check_count, check_integer, check_prime, digits_of, divisors, first_powers, is_integer, prime_powers,
 )
 from carryturns.base.residues import least_irreducible
-from carryturns.base.rows import add_rows, code_of, multiply_modulo, power_modulo, subtract_rows
+from carryturns.base.rows import code_of, multiply_modulo, power_modulo
 from carryturns.errors import InvalidCount, InvalidElement, InvalidField, InvalidOperation, InvalidOrder
 
 MAX_SIZE = 512
@@ -80,6 +80,13 @@ def logs_by_code(powers):
     return tuple(logs)
 
 
+def logs_of_nexts(prime, powers, logs):
+    """The tuple that has for each log that of the element which is 1 more, and None for 0."""
+    # To add 1 is to add it to the last digit, which has no carry.
+    codes = [code + 1 if (code + 1) % prime != 0 else code + 1 - prime for code in powers]
+    return tuple([logs[code] for code in codes])
+
+
 class Field:
     """A finite field. It never changes."""
 
@@ -94,9 +101,9 @@ class Field:
         self._size = size
         self._poly = least_irreducible(prime, degree)
         self._codes = tuple(range(size))
-        self._rows = tuple([digits_of(code, prime) for code in range(size)])
         self._powers = generator_powers(prime, self._poly, size)
         self._logs = logs_by_code(self._powers)
+        self._nexts = logs_of_nexts(prime, self._powers, self._logs)
         self._orders = tuple([order for order in divisors(size - 1) if order <= MAX_CLASSES])
 
     @property
@@ -134,13 +141,18 @@ class Field:
         """The sum of two elements."""
         check_element(self, one)
         check_element(self, other)
-        return code_of(self._prime, add_rows(self._prime, self._rows[one], self._rows[other]))
+        if one == 0 or other == 0:
+            return one + other
+        log = self._logs[other]
+        step = self._nexts[(self._logs[one] - log) % len(self._powers)]
+        if step is None:
+            return 0
+        return self._element_at(log + step)
 
     def minus(self, one, other):
         """The difference of two elements."""
         check_element(self, one)
-        check_element(self, other)
-        return code_of(self._prime, subtract_rows(self._prime, self._rows[one], self._rows[other]))
+        return self.plus(one, self.opposite(other))
 
     def times(self, one, other):
         """The product of two elements."""
@@ -162,7 +174,7 @@ class Field:
 
     def opposite(self, element):
         """The element that adds up to 0 with this one."""
-        return self.minus(0, element)
+        return self.times(element, self._prime - 1)
 
     def raised(self, element, many):
         """The power of an element; with the exponent 0 it is 1, also for 0."""
@@ -216,6 +228,10 @@ class Field:
             raise InvalidCount(degree)
         step = (self._size - 1) // (size_of(self._prime, degree) - 1)
         return tuple([0] + sorted(self._powers[::step]))
+
+    def next_logs(self):
+        """The tuple that has for each log that of the element which is 1 more, and None for 0."""
+        return self._nexts
 
     def _element_at(self, log):
         return self._powers[log % len(self._powers)]

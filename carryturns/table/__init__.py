@@ -1,0 +1,1 @@
+"""Tables of the classes of finite fields."""

@@ -1,0 +1,1 @@
+"""Sums J of characters."""

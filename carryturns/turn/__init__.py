@@ -1,0 +1,1 @@
+"""Turn numbers: sums of roots of unity with integers."""

@@ -1,0 +1,165 @@
+"""The entries of turn numbers of one order, reckoned with; nothing is checked here."""
+
+from carryturns.base.numbers import count_units, prime_powers, units_of
+
+
+def cyclotomic_entries(order):
+    """The tuple of the entries of a cyclotomic polynomial, that of the power 0 first."""
+    width = count_units(order) + 1
+    # It is the product of all 1 - X ** (order / d), for d the products of different primes that
+    # divide the order, those of an odd number of primes as divisors. A series stops at the width.
+    steps = [(order, True)]
+    for prime in prime_powers(order):
+        steps = steps + [(step // prime, not is_factor) for step, is_factor in steps]
+    series = [1] + [0] * (width - 1)
+    for step, is_factor in steps:
+        if is_factor:
+            for at in reversed(range(step, width)):
+                series[at] -= series[at - step]
+        else:
+            for at in range(step, width):
+                series[at] += series[at - step]
+    # Only for the order 1 there is no even number of signs.
+    return tuple(series) if order > 1 else (-1, 1)
+
+
+class TurnRing:
+    """What the turn numbers of an order have in common."""
+
+    def __init__(self, order):
+        poly = cyclotomic_entries(order)
+        self._order = order
+        self._width = len(poly) - 1
+        self._lower = tuple([(at, entry) for at, entry in enumerate(poly[:-1]) if entry != 0])
+
+    def reduced(self, sums):
+        """The entries of a sum of powers of z, told by a list of how often each power is there."""
+        order = self._order
+        width = self._width
+        rest = list(sums[:order])
+        length = len(rest)
+        for at, many in enumerate(sums[order:]):
+            rest[at % order] += many
+        for at in reversed(range(width, length)):
+            many = rest[at]
+            if many != 0:
+                for to, entry in self._lower:
+                    rest[at - width + to] -= many * entry
+        return tuple(rest[:width]) + (0,) * (width - length)
+
+    def root(self, many):
+        """The entries of z to the power many."""
+        sums = [0] * self._order
+        sums[many % self._order] = 1
+        return self.reduced(sums)
+
+    def whole_entries(self, number):
+        """The entries of an integer."""
+        return (number,) + (0,) * (self._width - 1)
+
+    def product(self, one, other):
+        """The entries of a product."""
+        width = self._width
+        sums = [0] * (2 * width - 1)
+        for at, factor in enumerate(one):
+            if factor != 0:
+                end = at + width
+                sums[at:end] = [total + factor * entry for total, entry in zip(sums[at:end], other)]
+        return self.reduced(sums)
+
+    def powered(self, entries, exponent):
+        """The entries of a power, by squaring."""
+        power = self.whole_entries(1)
+        while exponent > 0:
+            if exponent % 2 == 1:
+                power = self.product(power, entries)
+            exponent = exponent // 2
+            if exponent > 0:
+                entries = self.product(entries, entries)
+        return power
+
+    def turned_by(self, entries, unit):
+        """The entries with z ** unit in the place of z."""
+        sums = [0] * self._order
+        for at, entry in enumerate(entries):
+            sums[at * unit % self._order] = entry
+        return self.reduced(sums)
+
+    def traced(self, entries):
+        """The entries of the sum, turned by all units."""
+        sums = [0] * self._order
+        for unit in units_of(self._order):
+            for at, entry in enumerate(entries):
+                sums[at * unit % self._order] += entry
+        return self.reduced(sums)
+
+    def chained(self, entries, powers):
+        """The entries of the product, turned by all powers of a unit, which begin with 1."""
+        many = len(powers)
+        if many == 1:
+            return entries
+        half = many // 2
+        chain = self.chained(entries, powers[:half])
+        chain = self.product(chain, self.turned_by(chain, powers[half]))
+        if many % 2 == 1:
+            chain = self.product(chain, self.turned_by(entries, powers[-1]))
+        return chain
+
+    def cofactor_and_norm(self, entries):
+        """The pair of the entries of the product, turned by all units but 1, and of the norm."""
+        group = [1 % self._order]
+        others = self.whole_entries(1)
+        whole = entries
+        for unit in units_of(self._order):
+            if unit not in group:
+                # The units so far are a group, and so they are with the powers of the next one.
+                powers = self._powers_outside(unit, group)
+                more = self.turned_by(self.chained(whole, powers[:-1]), unit)
+                others = self.product(others, more)
+                whole = self.product(whole, more)
+                group = [member * power % self._order for member in group for power in powers]
+        return others, whole[0]
+
+    def _powers_outside(self, unit, group):
+        powers = [1]
+        while powers[-1] * unit % self._order not in group:
+            powers.append(powers[-1] * unit % self._order)
+        return powers
+
+
+def lifted_entries(order, entries, multiple):
+    """The entries of a turn number of an order as one of a multiple of the order."""
+    sums = [0] * multiple
+    for at, entry in enumerate(entries):
+        sums[at * (multiple // order)] = entry
+    return TurnRing(multiple).reduced(sums)
+
+
+def without_prime(order, entries, prime):
+    """The entries as those of the order without one of its primes, or None if they are none."""
+    part = order // prime
+    if part % prime == 0:
+        # Here the polynomial of the order is that of the part, with X ** prime in the place of X.
+        if any([entry != 0 for at, entry in enumerate(entries) if at % prime != 0]):
+            return None
+        return entries[::prime]
+    # Each root is one of the order prime, times one of the order part. The roots of the order
+    # prime add up to 0, and this is all that their multiples can be without being 0 one by one.
+    padded = entries + (0,) * (order - len(entries))
+    ring = TurnRing(part)
+    rows = []
+    for at in range(prime):
+        rows.append(ring.reduced([padded[(at * part + to * prime) % order] for to in range(part)]))
+    if any([row != rows[1] for row in rows[2:]]):
+        return None
+    return tuple([first - less for first, less in zip(rows[0], rows[1])])
+
+
+def lowered_entries(order, entries, divisor):
+    """The entries as those of a divisor of the order, or None if they are none."""
+    for prime, many in prime_powers(order // divisor).items():
+        for _ in range(many):
+            if entries is not None:
+                entries = without_prime(order, entries, prime)
+                order = order // prime
+    return entries
