@@ -51,7 +51,7 @@ def orders_of(size):
     """Orders of a field."""
     def is_right(value):
         return plain_integer(value) and 1 <= value <= 24 and (size - 1) % value == 0
-    return Kind(errors.InvalidOrder, is_right, [0, 5, 24, 25, -1, size - 1])
+    return Kind(errors.InvalidOrder, is_right, [0, 5, 24, 25, -1, size - 1], hangs=True)
 
 
 def objects_of(kind, error, wrong):

@@ -3,8 +3,11 @@
 import re
 
 import carryturns.errors as errors
+from carryturns.above.towers import Tower
 from carryturns.character.characters import Character
+from carryturns.count.equations import Equation
 from carryturns.field.fields import Field
+from carryturns.period.periods import PeriodRing
 from carryturns.turn.turns import Turn
 
 
@@ -29,6 +32,8 @@ def all_kinds():
         errors.UnknownName("a"), errors.NothingToUndo(1), errors.TooMany(60), errors.Refused(("a", 1)),
         Turn(1, (0,)), Turn(1, (1,)), Turn(2, (1,)), Turn(3, (-1, -3)), Turn(5, (1, 2, 0, -1)),
         Turn(3, (10 ** 50, 1)).raised(3), (Turn(3, (1, 0)),), Character(Field(7), 3, 1), Character(Field(3, 2), 4, 0),
+        PeriodRing(Field(7), 3), PeriodRing(Field(13), 4), Equation(Field(7), ((1, 3), (1, 3)), 1),
+        Equation(Field(3, 2), ((1, 4),), 0), Tower(Field(7), 2), Tower(Field(2), 3), ((0,),), ((1, 3), (1, 3)),
     ]
 
 

@@ -185,8 +185,8 @@ class Classes(unittest.TestCase):
                     for number, value in enumerate(values):
                         exponent = -index * number % order
                         powers[exponent] = powers.get(exponent, 0) + value
-                    self.assertEqual(sums[index], Turn(order, (0,) * len(sums[index].entries)).plus(sums[index]))
-                    self.assertEqual(sums[index].entries, plain_turns.entries_of(order, powers))
+                    told = plain_turns.entries_of(order, powers)
+                    self.assertEqual((sums[index].order, sums[index].entries), (order, told))
                 self.assertEqual(class_values(order, sums), values)
 
     def test_sums_of_squares(self):

@@ -3,10 +3,14 @@
 import os
 import unittest
 
+import carryturns.above.lifts as lifts
+import carryturns.above.towers as towers
 import carryturns.base.numbers as numbers
 import carryturns.base.residues as residues
 import carryturns.character.characters as characters
+import carryturns.count.equations as equations
 import carryturns.field.fields as fields
+import carryturns.period.periods as periods
 import carryturns.table.tables as tables
 import carryturns.total.totals as totals
 import carryturns.turn.turns as turns
@@ -119,6 +123,52 @@ TOTAL = """
 raises InvalidCharacter
 """
 
+PERIOD = """
+>>> ring, four = PeriodRing(SEVEN, 3), PeriodRing(THIRTEEN, 4)
+>>> [ring.one, ring.times((1, 0, 0), (1, 0, 0)), ring.times((1, 0, 0), (0, 1, 0)), ring.matrix_of((1, 0, 0)), ring.poly, ring.trace_of((1, -1, 2))]
+[(-1, -1, -1), (-2, -2, -1), (0, 1, 1), ((-2, -2, -1), (0, 1, 1), (1, 1, 0)), (-1, -2, 1, 1), -2]
+>>> [four.poly, four.times((1, 0, 0, 0), (1, 0, 0, 0)), four.moved((1, 2, 0, 0), 3), four.raised((5, 0, 0, 0), 0), PeriodRing(SEVEN, 2).poly, PeriodRing(NINE, 4).poly]
+[(3, -4, 2, 1, 1), (0, 1, 2, 0), (2, 0, 0, 1), (-1, -1, -1, -1), (2, 1, 1), (-2, -5, -3, 1, 1)]
+>>> [discriminant(ring.poly), discriminant(four.poly), discriminant(PeriodRing(NINE, 4).poly), parts_modulo(ring, 2), parts_modulo(ring, 13), parts_modulo(four, 5), parts_modulo(four, 3), degree_told(four, 5), degree_told(four, 3)]
+[49, 19773, 0, (3,), (1, 1, 1), (4,), (1, 1, 1, 1), 4, 1]
+>>> [is_period_table(SEVEN, 3, ring.table), is_period_table(SEVEN, 3, ((0, 1, 0), (1, 0, 1), (0, 1, 1))), is_period_table(SEVEN, 3, ((0, 0, 0), (0, 0, 0), (0, 0, 0)))]
+[True, True, False]
+>>> ring.times((1, 0), (1, 0, 0))
+raises InvalidPeriod
+"""
+
+EQUATION = """
+>>> circle = Equation(SEVEN, ((1, 2), (1, 2)), 1)
+>>> cubes = Equation(SEVEN, ((1, 3), (1, 3)), 1)
+>>> [count_plainly(circle), count_by_classes(cubes), count_by_sums(cubes), cubes.exponents, cubes.order, shares_of(cubes), circle.is_solution((0, 6)), str(cubes)]
+[8, 6, 6, (3, 3), 3, ((1, 1), (1, 2), (2, 1), (2, 2)), True, '1*x^3 + 1*y^3 = 1 over 7']
+>>> [count_by_sums(Equation(SEVEN, ((1, 3), (1, 3), (1, 3)), 0)), count_by_sums(Equation(SEVEN, ((1, 3), (2, 3)), 1)), count_plainly(Equation(SEVEN, ((1, 5), (1, 2)), 3))]
+[55, 12, 7]
+>>> [count_by_sums(Equation(NINE, ((1, 4), (1, 4)), 1)), count_by_sums(Equation(THIRTEEN, ((1, 3), (1, 4)), 1))]
+[24, 19]
+>>> [counts_by_goal(SEVEN, ((1, 3),)), cubes.left_at((2, 3)), cubes.with_goal(0) == Equation(SEVEN, ((1, 3), (1, 3)), 0), next(solutions(circle), None)]
+[(1, 3, 0, 0, 0, 0, 3), 0, True, (0, 1)]
+>>> [least_number(SEVEN, 3), least_number(SEVEN, 6), least_number(NINE, 4), reach_of(NINE, 4), least_number(SIXTEEN, 3), least_number(SIXTEEN, 5), reach_of(SIXTEEN, 5)]
+[3, 6, None, 1, 2, None, 2]
+>>> [power_sums(SEVEN, 3, 1), power_sums(SEVEN, 3, 2)]
+[(0, 1, 6), (0, 1, 2, 5, 6)]
+>>> Equation(SEVEN, ((0, 2),), 1)
+raises InvalidEquation
+"""
+
+ABOVE = """
+>>> pair = Tower(SEVEN, 2)
+>>> [pair.poly, str(pair), pair.times((0, 1), (0, 1)), pair.norm_of((0, 1)), pair.trace_of((3, 1)), pair.embedded(5)]
+[(1, 0, 1), 'tower of 2 over 7', (6, 0), 1, 6, (5, 0)]
+>>> CUBES = Equation(SEVEN, ((1, 3), (1, 3)), 1)
+>>> [count_polynomial(CUBES), count_parts(CUBES), count_above(CUBES, 1), count_above(CUBES, 2), count_plainly_above(CUBES, 2), counts_by_polynomial(7, 2, (1, -1, 6, -13, 7), 3)]
+[(1, -1, 6, -13, 7), ((1, 1, 7), (1, -2, 1)), 6, 60, 60, (6, 60, 321)]
+>>> [count_parts(Equation(SEVEN, ((1, 2), (1, 3)), 1)), count_parts(Equation(NINE, ((1, 4), (1, 2)), 1)), count_polynomial(Equation(SEVEN, ((1, 2), (1, 2), (1, 2)), 1)), count_plainly_above(Equation(Field(2), ((1, 3), (1, 3)), 1), 2)]
+[((1, 4, 7), (1,)), ((1, 6, 9), (1, -1)), (1, 7), 6]
+>>> count_above(Equation(Field(2), ((1, 3), (1, 3)), 1), 2)
+raises InvalidOperation
+"""
+
 
 def example_fields():
     """The names of the fields that the examples use."""
@@ -155,6 +205,19 @@ class Examples(unittest.TestCase):
     def test_totals(self):
         self.assertEqual(len(examples_in(TOTAL)), 5)
         check_examples(self, TOTAL, {**vars(totals), **example_fields()})
+
+    def test_periods(self):
+        self.assertEqual(len(examples_in(PERIOD)), 6)
+        check_examples(self, PERIOD, {**vars(periods), **example_fields()})
+
+    def test_equations(self):
+        self.assertEqual(len(examples_in(EQUATION)), 9)
+        check_examples(self, EQUATION, {**vars(equations), **example_fields()})
+
+    def test_fields_above(self):
+        self.assertEqual(len(examples_in(ABOVE)), 6)
+        names = {**vars(equations), **vars(towers), **vars(lifts), **example_fields()}
+        check_examples(self, ABOVE, names)
 
     def test_readme(self):
         with open(os.path.join(os.path.dirname(os.path.dirname(os.path.abspath(__file__))), "README.md")) as file:

@@ -3,10 +3,14 @@
 import inspect
 import unittest
 
+import carryturns.above.lifts as lifts
+import carryturns.above.towers as towers
 import carryturns.base.numbers as numbers
 import carryturns.base.residues as residues
 import carryturns.character.characters as characters
+import carryturns.count.equations as equations
 import carryturns.field.fields as fields
+import carryturns.period.periods as periods
 import carryturns.table.tables as tables
 import carryturns.total.totals as totals
 import carryturns.turn.turns as turns
@@ -19,6 +23,9 @@ CONSTANTS = (
     (characters, {"MAX_ORDER": 24}),
     (tables, {"MAX_JUDGED": 24}),
     (totals, {"MAX_TERMS": 6}),
+    (periods, {"MAX_RAISED": 20}),
+    (equations, {"MAX_TERMS": 6, "MAX_TRIED": 20000, "MAX_SHARES": 20000, "MAX_EXPONENT": 1000}),
+    (towers, {"MAX_TOWER": 4096, "MAX_FOLD": 12}),
 )
 
 FUNCTIONS = (
@@ -50,6 +57,18 @@ FUNCTIONS = (
         split_value(field,order,split) all_totals(field,order) totals_by_table(field,order,table)
         table_by_totals(field,order,totals) are_totals(field,order,value)
     """),
+    (periods, """
+        is_period_table(field,order,value) discriminant(poly) parts_modulo(ring,prime) degree_told(ring,prime)
+    """),
+    (equations, """
+        solutions(equation) count_plainly(equation) count_by_classes(equation) count_by_sums(equation)
+        shares_of(equation) amount_of(equation,share) counts_by_goal(field,terms) reach_of(field,number)
+        least_number(field,number) power_sums(field,number,many)
+    """),
+    (lifts, """
+        jacobi_above(field,order,indices,many) count_above(equation,many) count_plainly_above(equation,many)
+        count_polynomial(equation) count_parts(equation) counts_by_polynomial(size,terms,poly,many)
+    """),
 )
 
 SEVEN = fields.Field(7)
@@ -72,6 +91,19 @@ CLASSES = (
         __init__(self,field,order,index) value_at(self,element) times(self,other) raised(self,many)
         opposite(self) widened(self,order)
      """, "", "__eq__ __str__", "field order number exact is_trivial sign"),
+    (periods.PeriodRing, periods, periods.PeriodRing(SEVEN, 3), """
+        __init__(self,field,order) single(self,index) plus(self,one,other) times(self,one,other)
+        scaled(self,period,number) moved(self,period,number) raised(self,period,many) matrix_of(self,period)
+        poly_of(self,period) trace_of(self,period)
+     """, "", "__len__ __eq__ __str__", "field order one table poly"),
+    (equations.Equation, equations, equations.Equation(SEVEN, ((1, 3),), 1), """
+        __init__(self,field,terms,goal) left_at(self,value) is_solution(self,value) with_goal(self,element)
+        scaled(self,element)
+     """, "", "__eq__ __len__ __str__", "field terms goal exponents order"),
+    (towers.Tower, towers, towers.Tower(SEVEN, 2), """
+        __init__(self,field,many) plus(self,one,other) times(self,one,other) raised(self,one,number)
+        norm_of(self,one) trace_of(self,one) embedded(self,code) members(self)
+     """, "", "__eq__ __len__ __str__", "field fold size poly"),
 )
 
 
@@ -91,7 +123,8 @@ class Interface(unittest.TestCase):
             for signature in told.split():
                 name = signature.split("(")[0]
                 function = vars(module)[name]
-                self.assertTrue(inspect.isfunction(function) or inspect.isgeneratorfunction(function), name)
+                self.assertTrue(inspect.isfunction(function), name)
+                self.assertIs(inspect.isgeneratorfunction(function), name == "solutions")
                 self.assertEqual(function.__module__, module.__name__, name)
                 self.assertEqual(signature_of(name, function), signature)
 

@@ -33,7 +33,10 @@ class TurnRing:
         self._lower = tuple([(at, entry) for at, entry in enumerate(poly[:-1]) if entry != 0])
 
     def reduced(self, sums):
-        """The entries of a sum of powers of z, told by a list of how often each power is there."""
+        """The entries of a sum of powers of z, told by a list of how often each power is there.
+
+        The list has an item for each power that an entry belongs to, and perhaps more.
+        """
         order = self._order
         width = self._width
         rest = list(sums[:order])
@@ -45,7 +48,7 @@ class TurnRing:
             if many != 0:
                 for to, entry in self._lower:
                     rest[at - width + to] -= many * entry
-        return tuple(rest[:width]) + (0,) * (width - length)
+        return tuple(rest[:width])
 
     def root(self, many):
         """The entries of z to the power many."""

@@ -45,7 +45,10 @@ def is_entries(order, value):
 
 
 def made_turn(order, ring, entries):
-    """The turn number with entries that may have more digits than those that are passed."""
+    """The turn number with entries that may have more digits than those that are passed.
+
+    The ring of the order is passed on if it is known, and None otherwise.
+    """
     turn = Turn(1, (0,))
     turn._order = order
     turn._ring = ring
@@ -90,7 +93,7 @@ class Turn:
         if not is_entries(order, entries):
             raise InvalidTurn("no tuple of as many integers as the order has units")
         self._order = order
-        self._ring = TurnRing(order)
+        self._ring = None
         self._entries = entries
 
     @classmethod
@@ -151,7 +154,7 @@ class Turn:
     def times(self, other):
         """The product."""
         self._check_other(other)
-        return self._made(self._ring.product(self._entries, other.entries))
+        return self._made(self._reckoner().product(self._entries, other.entries))
 
     def scaled(self, number):
         """The product with an integer."""
@@ -165,24 +168,24 @@ class Turn:
     def raised(self, many):
         """The power with an exponent from 0 to 60."""
         check_count(many, 0, MAX_POWER)
-        return self._made(self._ring.powered(self._entries, many))
+        return self._made(self._reckoner().powered(self._entries, many))
 
     def turned(self, unit):
         """The turn number with z ** unit in the place of z."""
         check_turning(unit, self._order)
-        return self._made(self._ring.turned_by(self._entries, unit))
+        return self._made(self._reckoner().turned_by(self._entries, unit))
 
     def mirrored(self):
         """The opposite turn."""
-        return self._made(self._ring.turned_by(self._entries, -1))
+        return self._made(self._reckoner().turned_by(self._entries, -1))
 
     def norm(self):
         """The product, turned by all units, as an integer."""
-        return self._ring.cofactor_and_norm(self._entries)[1]
+        return self._reckoner().cofactor_and_norm(self._entries)[1]
 
     def trace(self):
         """The sum, turned by all units, as an integer."""
-        return self._ring.traced(self._entries)[0]
+        return self._reckoner().traced(self._entries)[0]
 
     def is_unit(self):
         """Whether this divides 1."""
@@ -193,8 +196,9 @@ class Turn:
         self._check_other(other)
         if other.is_zero:
             raise InvalidOperation("a quotient by 0")
-        cofactor, norm = self._ring.cofactor_and_norm(other.entries)
-        entries = self._ring.product(self._entries, cofactor)
+        ring = self._reckoner()
+        cofactor, norm = ring.cofactor_and_norm(other.entries)
+        entries = ring.product(self._entries, cofactor)
         if any([entry % norm != 0 for entry in entries]):
             return None
         return self._made(tuple([entry // norm for entry in entries]))
@@ -216,7 +220,7 @@ class Turn:
         check_turn_order(order)
         if order % self._order != 0:
             raise InvalidOrder("no multiple of the order")
-        return made_turn(order, TurnRing(order), lifted_entries(self._order, self._entries, order))
+        return made_turn(order, None, lifted_entries(self._order, self._entries, order))
 
     def lowered(self, order):
         """The turn number of a divisor of the order which is this one when it is lifted, or None."""
@@ -226,12 +230,18 @@ class Turn:
         entries = lowered_entries(self._order, self._entries, order)
         if entries is None:
             return None
-        return made_turn(order, TurnRing(order), entries)
+        return made_turn(order, None, entries)
 
     def _check_other(self, other):
         check_turn(other)
         if other.order != self._order:
             raise InvalidOperation("turn numbers of unlike orders")
+
+    def _reckoner(self):
+        # Many turn numbers are made that are only added, or only told.
+        if self._ring is None:
+            self._ring = TurnRing(self._order)
+        return self._ring
 
     def _made(self, entries):
         return made_turn(self._order, self._ring, entries)

@@ -1,0 +1,1 @@
+"""Fields above a finite field."""

@@ -1,0 +1,1 @@
+"""Equations between powers."""

@@ -1,0 +1,122 @@
+"""Shares of equations and their amounts; nothing is checked here.
+
+A share has for each term an index other than 0 whose character is 1 at all powers of the term.
+"""
+
+from carryturns.character.characters import sign_of
+from carryturns.total.totals import all_totals, product_of_split, split_of
+from carryturns.turn.turns import Turn, integer_in
+
+
+def indices_for(equation):
+    """The list that has for each term the indices that a share can have there."""
+    order = equation.order
+    return [list(range(order // exponent, order, order // exponent)) for exponent in equation.exponents]
+
+
+def share_counts(equation):
+    """The list that has for each number of terms, from 0 on, in how many ways the last ones end a share.
+
+    Each item tells it for each rest by the order of the sum of the indices ahead.
+    """
+    order = equation.order
+    ways = [1 if equation.goal != 0 or rest == 0 else 0 for rest in range(order)]
+    counts = [ways]
+    for indices in reversed(indices_for(equation)):
+        ways = [sum([ways[(rest + index) % order] for index in indices]) for rest in range(order)]
+        counts.append(ways)
+    return counts
+
+
+def count_shares(equation):
+    """The number of the shares."""
+    return share_counts(equation)[-1][0]
+
+
+def all_shares(equation):
+    """The ascending list of all shares."""
+    order = equation.order
+    counts = share_counts(equation)
+    shares = [()]
+    for at, indices in enumerate(indices_for(equation)):
+        # What no further indices make a share is left out at once.
+        ways = counts[len(equation.terms) - at - 1]
+        longer = [share + (index,) for share in shares for index in indices]
+        shares = [share for share in longer if ways[sum(share) % order] > 0]
+    return shares
+
+
+def value_exponent(equation, at, index):
+    """The exponent of z in what an index makes of the factor of a term, and of the goal if it is not 0."""
+    field = equation.field
+    exponent = -index * field.log_of(equation.terms[at][0])
+    if equation.goal != 0:
+        exponent += index * field.log_of(equation.goal)
+    return exponent % equation.order
+
+
+def weight_of(equation, share):
+    """The amount of a share, without the factor q - 1 for the goal 0."""
+    field = equation.field
+    order = equation.order
+    exponent = sum([value_exponent(equation, at, index) for at, index in enumerate(share)])
+    factor = 1
+    indices = share
+    if equation.goal == 0:
+        factor = sign_of(field, order, share[-1])
+        indices = share[:-1]
+    total = product_of_split(field, order, split_of(field, order, indices))
+    return total.times(Turn.power(order, exponent)).scaled(factor)
+
+
+def amount_with(equation, share):
+    """The amount of a share."""
+    weight = weight_of(equation, share)
+    if equation.goal == 0:
+        return weight.scaled(equation.field.size - 1)
+    return weight
+
+
+def step_factor(equation, totals, at, rest, index):
+    """What an index of a term makes of the product so far, when the indices ahead leave a rest."""
+    field = equation.field
+    order = equation.order
+    if at == 0:
+        return Turn.whole(order, 1)
+    if equation.goal == 0 and at == len(equation.terms) - 1:
+        return Turn.whole(order, sign_of(field, order, index))
+    if rest == 0:
+        # By Gauss sums: J(a, -a) is minus the sign of a, and J(a, -a, b) the sign of a times q.
+        return Turn.whole(order, -field.size)
+    return totals[rest][index]
+
+
+def is_kept(equation, at, rest):
+    """Whether indices with a sum that leaves a rest can be the ones of the terms up to this one."""
+    return equation.goal != 0 or at < len(equation.terms) - 1 or rest == 0
+
+
+def sum_of_weights(equation, many):
+    """The integer that is the sum of the powers, with an exponent, of the weights of all shares.
+
+    A weight is a product, step by step, whose factors hang on the last index and on the sum of those
+    ahead: so the shares are added up together that leave the same sum.
+    """
+    order = equation.order
+    totals = all_totals(equation.field, order)
+    sums = {0: Turn.whole(order, 1)}
+    for at, indices in enumerate(indices_for(equation)):
+        longer = {}
+        for rest in sums:
+            for index in indices:
+                both = (rest + index) % order
+                if is_kept(equation, at, both):
+                    factor = step_factor(equation, totals, at, rest, index)
+                    root = Turn.power(order, value_exponent(equation, at, index))
+                    product = sums[rest].times(factor.times(root).raised(many))
+                    longer[both] = longer[both].plus(product) if both in longer else product
+        sums = longer
+    total = Turn.whole(order, 0)
+    for rest in sums:
+        total = total.plus(sums[rest])
+    return integer_in(total, 1)

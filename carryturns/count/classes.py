@@ -1,0 +1,59 @@
+"""Sums of elements of classes, reckoned with by logs; nothing is checked here.
+
+A class of a share exponent is told by a log; what holds of one element of it holds of all.
+"""
+
+from math import gcd
+
+
+def counts_by_class(field, terms, order):
+    """The list of the numbers of solutions for a goal of each class of an order, and for the goal 0."""
+    # Without terms, 0 is the only sum.
+    counts = [0] * order + [1]
+    for factor, exponent in terms:
+        share = gcd(exponent, field.size - 1)
+        first = field.log_of(field.opposite(factor))
+        logs = list(range(first, first + field.size - 1, share))
+        counts = counts_with_term(field, counts, logs, share)
+    return counts
+
+
+def counts_with_term(field, counts, logs, share):
+    """The counts with one more term, told by the logs of the opposites of what it can be.
+
+    The term is each of these as often as the share exponent tells, and once 0.
+    """
+    order = len(counts) - 1
+    nexts = field.next_logs()
+    found = []
+    for goal in range(order):
+        total = 0
+        for log in logs:
+            # What is left of the goal for the terms so far: the goal times 1 and a quotient.
+            step = nexts[(log - goal) % len(nexts)]
+            total += counts[-1] if step is None else counts[(goal + step) % order]
+        found.append(counts[goal] + share * total)
+    found.append(counts[-1] + share * sum([counts[log % order] for log in logs]))
+    return found
+
+
+def steps_from_zero(field, share):
+    """The list of how many powers make the elements of each class of a share exponent, at least.
+
+    It has None where no number of powers does.
+    """
+    nexts = field.next_logs()
+    steps = [None] * share
+    # The powers themselves, with the exponent, are the class 0.
+    steps[0] = 1
+    waiting = [0]
+    for many in range(2, share + 1):
+        reached = []
+        for start in waiting:
+            for log in range(0, len(nexts), share):
+                step = nexts[(log - start) % len(nexts)]
+                if step is not None and steps[(start + step) % share] is None:
+                    steps[(start + step) % share] = many
+                    reached.append((start + step) % share)
+        waiting = reached
+    return steps

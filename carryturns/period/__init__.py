@@ -1,0 +1,1 @@
+"""Periods of finite fields."""
