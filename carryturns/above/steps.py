@@ -55,18 +55,20 @@ class CodeTables:
     def least_poly(self, many):
         """The least tuple of a degree that tells an irreducible monic row."""
         lower = [row for degree in range(1, many // 2 + 1) for row in self.monic_rows(degree)]
-        # With the entry 0 ahead, X divides it.
-        for row in self.monic_rows(many):
-            if row[0] != 0 and all([any(self.rest_of(row, low)) for low in lower]):
-                return row
-        return None
+        # X divides all rows with the entry 0 ahead.
+        rows = [row for row in self.monic_rows(many) if row[0] != 0]
+        at = 0
+        while any([not any(self.rest_of(rows[at], low)) for low in lower]):
+            at += 1
+        return rows[at]
 
     def powers_in(self, poly):
         """The list of all elements but 0 of a tower, as the powers of one of them."""
         fold = len(poly) - 1
         last = first_powers(self._many, fold)[-1] - 1
         number = self._many
-        # The first elements have few entries, and so few steps are needed for a product.
+        # The numbers below tell elements of the field. The next ones have few entries, so that there
+        # are few steps in a product by them.
         while not self.is_maker_of_all(padded_codes(number, self._many, fold), last, poly):
             number += 1
         maker = digits_of(number, self._many)

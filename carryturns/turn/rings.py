@@ -146,8 +146,8 @@ def without_prime(order, entries, prime):
         if any([entry != 0 for at, entry in enumerate(entries) if at % prime != 0]):
             return None
         return entries[::prime]
-    # Each root is one of the order prime, times one of the order part. The roots of the order
-    # prime add up to 0, and this is all that their multiples can be without being 0 one by one.
+    # Each root is one of the order prime, times one of the order part. Multiples of the roots of the
+    # order prime add up to 0 only if all of them are equal, so all rows but the first one must be.
     padded = entries + (0,) * (order - len(entries))
     ring = TurnRing(part)
     rows = []
