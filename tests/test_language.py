@@ -261,6 +261,25 @@ class Language(unittest.TestCase):
             if isinstance(node.func, ast.Name) and node.func.id in kinds:
                 self.assertIn(node, right, (module, node.lineno))
 
+    def test_stars_in_calls(self):
+        own = {node.name for _, node in self.nodes(ast.FunctionDef, ast.ClassDef)} | {"max", "min", "zip"}
+        for module, node in self.nodes(ast.Call):
+            for given in node.args:
+                if isinstance(given, ast.Starred):
+                    self.assertIn(getattr(node.func, "id", None) or node.func.attr, own, (module, node.lineno))
+                    self.assertIsInstance(given.value, (ast.Name, ast.Attribute), (module, node.lineno))
+
+    def test_names_from_the_library_are_only_called(self):
+        for module, tree in self.trees.items():
+            names = {
+                name.name for node in tree.body if isinstance(node, ast.ImportFrom) and node.module in LIBRARY
+                for name in node.names
+            }
+            called = [node.func for node in ast.walk(tree) if isinstance(node, ast.Call)]
+            for node in ast.walk(tree):
+                if isinstance(node, ast.Name) and node.id in names:
+                    self.assertIn(node, called, (module, node.lineno))
+
     def test_words_that_do_not_occur(self):
         words = set(
             "type typing typing_extensions enum Enum IntEnum StrEnum Flag IntFlag Generic Protocol ABC ABCMeta namedtuple"
