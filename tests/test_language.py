@@ -20,7 +20,7 @@ NODES = (
 )
 BUILTINS = set(
     "len range enumerate zip min max sum abs sorted reversed int str bool list tuple dict isinstance ord repr any all"
-    " divmod iter next property staticmethod classmethod ValueError TypeError KeyError IndexError LookupError"
+    " set divmod iter next property staticmethod classmethod ValueError TypeError KeyError IndexError LookupError"
     " ArithmeticError OverflowError RuntimeError NotImplemented".split()
 )
 METHODS = set(
@@ -53,6 +53,78 @@ def bound_in(function):
     return names + [
         node.id for node in ast.walk(function) if isinstance(node, ast.Name) and isinstance(node.ctx, ast.Store)
     ]
+
+
+def place_of(node):
+    """The name, with its attributes, of which a node is the value or an item, or None."""
+    if isinstance(node, ast.Name):
+        return node.id
+    if isinstance(node, ast.Attribute):
+        below = place_of(node.value)
+        return below and f"{below}.{node.attr}"
+    if isinstance(node, ast.Subscript):
+        return place_of(node.value)
+    return None
+
+
+def places_in(node):
+    """The places that a value can stand for: a place, an item of it, or one of a choice."""
+    if isinstance(node, ast.IfExp):
+        return places_in(node.body) | places_in(node.orelse)
+    if isinstance(node, ast.BoolOp):
+        return {place for value in node.values for place in places_in(value)}
+    place = place_of(node)
+    return {place} if place else set()
+
+
+def walked_in(node):
+    """The places that a loop over a value goes through."""
+    if isinstance(node, ast.Call):
+        name = getattr(node.func, "id", None)
+        if name in ("zip", "enumerate", "reversed"):
+            return {place for given in node.args for place in walked_in(given)}
+        if getattr(node.func, "attr", None) in ("items", "keys", "values"):
+            return places_in(node.func.value)
+        return set()
+    # A slice is a copy.
+    if isinstance(node, ast.Subscript) and isinstance(node.slice, ast.Slice):
+        return set()
+    return places_in(node)
+
+
+CHANGING = ("append", "clear", "extend", "insert", "pop", "remove", "reverse", "setdefault", "update", "add", "discard")
+
+
+def places_changed(row):
+    """The places that a row of a loop changes."""
+    found = set()
+    for node in ast.walk(row):
+        if isinstance(node, ast.Call) and getattr(node.func, "attr", None) in CHANGING:
+            found.add(place_of(node.func.value))
+        if isinstance(node, (ast.Subscript, ast.Attribute)) and isinstance(node.ctx, (ast.Store, ast.Del)):
+            found.add(place_of(node.value if isinstance(node, ast.Subscript) else node))
+        if isinstance(node, ast.AugAssign) and not isinstance(node.value, ast.Constant):
+            found.add(place_of(node.target))
+    return found - {None}
+
+
+def names_together(function):
+    """The list of the pairs of places of which one is, somewhere in the function, given to the other one."""
+    pairs = []
+    for node in ast.walk(function):
+        if isinstance(node, ast.Assign):
+            pairs += [(place_of(target), place) for target in node.targets for place in places_in(node.value)]
+    return pairs
+
+
+def together(pairs, places):
+    """The places, and all that can be the same as one of them, or an item of it."""
+    found = set(places)
+    while True:
+        more = {place for pair in pairs if set(pair) & found for place in pair if place} - found
+        if not more:
+            return found
+        found |= more
 
 
 class Language(unittest.TestCase):
@@ -292,17 +364,35 @@ class Language(unittest.TestCase):
                 self.assertNotIn(word, text, module)
 
     def test_what_is_iterated_over_is_not_modified(self):
-        changing = ("append", "clear", "extend", "insert", "pop", "remove", "reverse", "setdefault", "update")
-        for module, loop in self.nodes(ast.For):
-            over = {node.id for node in ast.walk(loop.iter) if isinstance(node, ast.Name)}
-            if isinstance(loop.iter, ast.Call) and getattr(loop.iter.func, "id", None) in ("range", "reversed", "list"):
-                # What stands in a range, or in a copy, is not iterated over.
-                over = set()
-            for node in [found for row in loop.body for found in ast.walk(row)]:
-                if isinstance(node, ast.Call) and isinstance(node.func, ast.Attribute) and node.func.attr in changing:
-                    self.assertNotIn(getattr(node.func.value, "id", None), over, (module, node.lineno))
-                if isinstance(node, ast.Subscript) and isinstance(node.ctx, ast.Store):
-                    self.assertNotIn(getattr(node.value, "id", None), over, (module, node.lineno))
+        for module, function in self.nodes(ast.FunctionDef):
+            groups = names_together(function)
+            for loop in ast.walk(function):
+                if isinstance(loop, (ast.For, ast.comprehension)):
+                    rows = loop.body if isinstance(loop, ast.For) else []
+                    changed = {place for row in rows for place in places_changed(row)}
+                    walked = walked_in(loop.iter)
+                    self.assertFalse(together(groups, walked) & together(groups, changed), (module, loop.iter.lineno))
+
+    def test_what_is_added_is_not_what_it_is_added_to(self):
+        for module, function in self.nodes(ast.FunctionDef):
+            groups = names_together(function)
+            for node in ast.walk(function):
+                changed, added = set(), set()
+                if isinstance(node, ast.AugAssign) and isinstance(node.target, (ast.Subscript, ast.Attribute)):
+                    changed, added = {place_of(node.target)}, places_in(node.value)
+                if isinstance(node, ast.Call) and getattr(node.func, "attr", None) in ("extend", "update"):
+                    changed, added = {place_of(node.func.value)}, places_in(node.args[0])
+                self.assertFalse(together(groups, changed) & together(groups, added), (module, node))
+
+    def test_sets_are_sorted_at_once_or_stored_once(self):
+        right = set()
+        for _, node in self.nodes(ast.Call):
+            if isinstance(node.func, ast.Name) and node.func.id in ("sorted", "len"):
+                right.update(node.args[:1])
+        for module, node in self.nodes(ast.Call):
+            if isinstance(node.func, ast.Name) and node.func.id == "set":
+                self.assertIn(node, right, (module, node.lineno))
+        self.assertEqual(list(self.nodes(ast.Set, ast.SetComp)), [])
 
     def test_numbers_and_strings(self):
         for module, node in self.nodes(ast.BinOp):

@@ -96,6 +96,24 @@ def is_kept(equation, at, rest):
     return equation.goal != 0 or at < len(equation.terms) - 1 or rest == 0
 
 
+def longer_sums(equation, totals, at, sums, many):
+    """The dict from the rests of indices up to a term to the sums of the products that go with them.
+
+    The dict of the sums for the indices ahead of this term is passed.
+    """
+    order = equation.order
+    longer = {}
+    for index in indices_for(equation)[at]:
+        root = Turn.power(order, value_exponent(equation, at, index))
+        for rest, ahead in sums.items():
+            both = (rest + index) % order
+            if is_kept(equation, at, both):
+                factor = step_factor(equation, totals, at, rest, index).times(root).raised(many)
+                product = ahead.times(factor)
+                longer[both] = longer[both].plus(product) if both in longer else product
+    return longer
+
+
 def sum_of_weights(equation, many):
     """The integer that is the sum of the powers, with an exponent, of the weights of all shares.
 
@@ -105,17 +123,8 @@ def sum_of_weights(equation, many):
     order = equation.order
     totals = all_totals(equation.field, order)
     sums = {0: Turn.whole(order, 1)}
-    for at, indices in enumerate(indices_for(equation)):
-        longer = {}
-        for rest in sums:
-            for index in indices:
-                both = (rest + index) % order
-                if is_kept(equation, at, both):
-                    factor = step_factor(equation, totals, at, rest, index)
-                    root = Turn.power(order, value_exponent(equation, at, index))
-                    product = sums[rest].times(factor.times(root).raised(many))
-                    longer[both] = longer[both].plus(product) if both in longer else product
-        sums = longer
+    for at in range(len(equation.terms)):
+        sums = longer_sums(equation, totals, at, sums, many)
     total = Turn.whole(order, 0)
     for rest in sums:
         total = total.plus(sums[rest])

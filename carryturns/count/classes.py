@@ -37,23 +37,26 @@ def counts_with_term(field, counts, logs, share):
     return found
 
 
+def next_classes(field, share, starts):
+    """The list of the classes of all sums of an element of some classes and of a power."""
+    nexts = field.next_logs()
+    steps = [nexts[(log - start) % len(nexts)] for start in starts for log in range(0, len(nexts), share)]
+    classes = [start for start in starts for _ in range(0, len(nexts), share)]
+    return [(start + step) % share for start, step in zip(classes, steps) if step is not None]
+
+
 def steps_from_zero(field, share):
     """The list of how many powers make the elements of each class of a share exponent, at least.
 
     It has None where no number of powers does.
     """
-    nexts = field.next_logs()
     steps = [None] * share
     # The powers themselves, with the exponent, are the class 0.
     steps[0] = 1
-    waiting = [0]
+    starts = [0]
     for many in range(2, share + 1):
-        reached = []
-        for start in waiting:
-            for log in range(0, len(nexts), share):
-                step = nexts[(log - start) % len(nexts)]
-                if step is not None and steps[(start + step) % share] is None:
-                    steps[(start + step) % share] = many
-                    reached.append((start + step) % share)
-        waiting = reached
+        found = next_classes(field, share, starts)
+        starts = [number for number in sorted(set(found)) if steps[number] is None]
+        for number in starts:
+            steps[number] = many
     return steps

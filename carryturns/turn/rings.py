@@ -15,10 +15,10 @@ def cyclotomic_entries(order):
     for step, is_factor in steps:
         if is_factor:
             for at in reversed(range(step, width)):
-                series[at] -= series[at - step]
+                series[at] = series[at] - series[at - step]
         else:
             for at in range(step, width):
-                series[at] += series[at - step]
+                series[at] = series[at] + series[at - step]
     # Only for the order 1 there is no even number of signs.
     return tuple(series) if order > 1 else (-1, 1)
 
@@ -42,12 +42,12 @@ class TurnRing:
         rest = list(sums[:order])
         length = len(rest)
         for at, many in enumerate(sums[order:]):
-            rest[at % order] += many
+            rest[at % order] = rest[at % order] + many
         for at in reversed(range(width, length)):
-            many = rest[at]
-            if many != 0:
+            last = rest[at]
+            if last != 0:
                 for to, entry in self._lower:
-                    rest[at - width + to] -= many * entry
+                    rest[at - width + to] = rest[at - width + to] - last * entry
         return tuple(rest[:width])
 
     def root(self, many):
