@@ -7,8 +7,11 @@ from carryturns.above.towers import Tower
 from carryturns.character.characters import Character
 from carryturns.count.equations import Equation
 from carryturns.field.fields import Field
+from carryturns.ideal.ideals import Ideal
 from carryturns.period.periods import PeriodRing
+from carryturns.place.places import Place
 from carryturns.turn.turns import Turn
+from carryturns.wave.waves import gauss
 
 
 def nested(kind, deep):
@@ -34,6 +37,8 @@ def all_kinds():
         Turn(3, (10 ** 50, 1)).raised(3), (Turn(3, (1, 0)),), Character(Field(7), 3, 1), Character(Field(3, 2), 4, 0),
         PeriodRing(Field(7), 3), PeriodRing(Field(13), 4), Equation(Field(7), ((1, 3), (1, 3)), 1),
         Equation(Field(3, 2), ((1, 4),), 0), Tower(Field(7), 2), Tower(Field(2), 3), ((0,),), ((1, 3), (1, 3)),
+        gauss(Field(5), 4, 1), gauss(Field(7), 3, 2), Place(3, 7, (3, 1)), Place(4, 3, (1, 0, 1)),
+        Ideal(3, ((1, 3), (0, 7))), Ideal(4, ((1, 2), (0, 5))), ((1, 3), (0, 7)), (3, 1),
     ]
 
 

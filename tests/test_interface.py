@@ -7,13 +7,17 @@ import carryturns.above.lifts as lifts
 import carryturns.above.towers as towers
 import carryturns.base.numbers as numbers
 import carryturns.base.residues as residues
+import carryturns.carry.carries as carries
 import carryturns.character.characters as characters
 import carryturns.count.equations as equations
 import carryturns.field.fields as fields
+import carryturns.ideal.ideals as ideals
 import carryturns.period.periods as periods
+import carryturns.place.places as places
 import carryturns.table.tables as tables
 import carryturns.total.totals as totals
 import carryturns.turn.turns as turns
+import carryturns.wave.waves as waves
 
 CONSTANTS = (
     (numbers, {"MAX_NAME": 8, "MAX_FACTORED": 10 ** 9, "MAX_MODULUS": 10000, "MAX_BASE": 1000}),
@@ -26,6 +30,9 @@ CONSTANTS = (
     (periods, {"MAX_RAISED": 20}),
     (equations, {"MAX_TERMS": 6, "MAX_TRIED": 20000, "MAX_SHARES": 20000, "MAX_EXPONENT": 1000}),
     (towers, {"MAX_TOWER": 4096, "MAX_FOLD": 12}),
+    (waves, {"MAX_WAVE": 19, "MAX_WAVE_ORDER": 12, "MAX_WAVE_POWER": 24}),
+    (places, {"MAX_PLACED": 12}),
+    (ideals, {"MAX_RANK": 8, "MAX_PARTED": 10 ** 12}),
 )
 
 FUNCTIONS = (
@@ -69,6 +76,24 @@ FUNCTIONS = (
         jacobi_above(field,order,indices,many) count_above(equation,many) count_plainly_above(equation,many)
         count_polynomial(equation) count_parts(equation) counts_by_polynomial(size,terms,poly,many)
     """),
+    (waves, """
+        gauss(field,order,index) gauss_at(field,order,index,element) gauss_product(field,order,indices)
+        jacobi_by_gauss(field,order,indices) product_sides(field,order,index,part)
+        gauss_above(field,order,index,many) gauss_power(field,order,index)
+    """),
+    (carries, """
+        carries_of(field,one,other) count_carries(field,one,other) rest_of(field,order,a,unit)
+        carry_row(field,order,a,b) least_carries(field,order,a,b) left_at_generator(field,turn)
+        binomial_left(field,order,a,b) prime_power_in(field,turn)
+    """),
+    (places, """
+        places(order,prime) count_places(order,prime) place_of_field(field,order) left_element(field,turn)
+        turning_to(place,other)
+    """),
+    (ideals, """
+        whole_ideal(order) ideal_of(order,members) ideal_of_place(place) places_in(ideal) is_maker(ideal,value)
+        jacobi_ideal(field,order,one,other) is_only_total(field,order,one,other,value)
+    """),
 )
 
 SEVEN = fields.Field(7)
@@ -104,6 +129,19 @@ CLASSES = (
         __init__(self,field,many) plus(self,one,other) times(self,one,other) raised(self,one,number)
         norm_of(self,one) trace_of(self,one) embedded(self,code) members(self)
      """, "", "__eq__ __len__ __str__", "field fold size poly"),
+    (waves.Wave, waves, waves.gauss(SEVEN, 3, 1), """
+        __init__(self,order,prime,entries) plus(self,other) minus(self,other) times(self,other)
+        scaled(self,factor) opposite(self) raised(self,many) moved(self,number) turned(self,unit) mirrored(self)
+        as_turn(self)
+     """, "", "__eq__ __str__", "order prime entries is_turn"),
+    (places.Place, places, places.Place(3, 7, (3, 1)), """
+        __init__(self,order,prime,poly) leaves(self,turn) symbol(self,turn) times_of(self,turn)
+        turned_by(self,unit)
+     """, "", "__contains__ __eq__ __str__", "order prime poly degree size"),
+    (ideals.Ideal, ideals, ideals.Ideal(3, ((1, 3), (0, 7))), """
+        __init__(self,order,rows) multiplied(self,other) joined(self,other) shared(self,other)
+        parted(self,other) is_within(self,other) lifted_by(self,many) moved(self,unit)
+     """, "", "__contains__ __len__ __iter__ __eq__ __str__", "order rows size"),
 )
 
 
@@ -154,7 +192,7 @@ class Interface(unittest.TestCase):
         for name in "prime degree size generator poly orders".split():
             self.assertTrue(hasattr(fields.Field(2), name))
 
-    def test_only_fields_are_iterated_over(self):
+    def test_what_is_iterated_over(self):
         for kind, _, told, _, _, signs, _ in CLASSES:
             if "__iter__" not in signs:
                 self.assertRaises(TypeError, iter, told)

@@ -233,6 +233,10 @@ class Field:
         """The tuple that has for each log that of the element which is 1 more, and None for 0."""
         return self._nexts
 
+    def all_powers(self):
+        """The tuple of all elements other than 0, by ascending logs."""
+        return self._powers
+
     def _element_at(self, log):
         return self._powers[log % len(self._powers)]
 

@@ -1,0 +1,1 @@
+"""Carries of additions of logs, and what they tell of sums J."""

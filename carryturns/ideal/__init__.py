@@ -1,0 +1,1 @@
+"""Ideals of turn numbers."""

@@ -1,0 +1,1 @@
+"""Places over a prime number: the factors of cyclotomic polynomials modulo it."""

@@ -1,0 +1,1 @@
+"""Gauss sums: sums with two kinds of roots of unity."""
