@@ -11,6 +11,7 @@ from carryturns.ideal.ideals import Ideal
 from carryturns.period.periods import PeriodRing
 from carryturns.place.places import Place
 from carryturns.turn.turns import Turn
+from carryturns.use.bench import Bench
 from carryturns.wave.waves import gauss
 
 
@@ -39,6 +40,7 @@ def all_kinds():
         Equation(Field(3, 2), ((1, 4),), 0), Tower(Field(7), 2), Tower(Field(2), 3), ((0,),), ((1, 3), (1, 3)),
         gauss(Field(5), 4, 1), gauss(Field(7), 3, 2), Place(3, 7, (3, 1)), Place(4, 3, (1, 0, 1)),
         Ideal(3, ((1, 3), (0, 7))), Ideal(4, ((1, 2), (0, 5))), ((1, 3), (0, 7)), (3, 1),
+        Bench(Field(7)), Bench(Field(13)), ("norm", "one", 7), ("like", "one", "two"), {"one": "two"},
     ]
 
 

@@ -10,13 +10,17 @@ import carryturns.base.residues as residues
 import carryturns.carry.carries as carries
 import carryturns.character.characters as characters
 import carryturns.count.equations as equations
+import carryturns.design.designs as designs
 import carryturns.field.fields as fields
 import carryturns.ideal.ideals as ideals
+import carryturns.mutual.squares as squares
+import carryturns.mutual.symbols as symbols
 import carryturns.period.periods as periods
 import carryturns.place.places as places
 import carryturns.table.tables as tables
 import carryturns.total.totals as totals
 import carryturns.turn.turns as turns
+import carryturns.use.bench as bench
 import carryturns.wave.waves as waves
 
 CONSTANTS = (
@@ -33,6 +37,10 @@ CONSTANTS = (
     (waves, {"MAX_WAVE": 19, "MAX_WAVE_ORDER": 12, "MAX_WAVE_POWER": 24}),
     (places, {"MAX_PLACED": 12}),
     (ideals, {"MAX_RANK": 8, "MAX_PARTED": 10 ** 12}),
+    (symbols, {"MUTUAL_ORDERS": (3, 4, 5, 7), "MAX_PARTED": 10 ** 12}),
+    (squares, {"MAX_SQUARED": 10 ** 6}),
+    (designs, {"MAX_UNITED": 8}),
+    (bench, {"MAX_TURNS": 6, "MAX_EQUATIONS": 6, "MAX_PLEDGES": 10}),
 )
 
 FUNCTIONS = (
@@ -94,6 +102,18 @@ FUNCTIONS = (
         whole_ideal(order) ideal_of(order,members) ideal_of_place(place) places_in(ideal) is_maker(ideal,value)
         jacobi_ideal(field,order,one,other) is_only_total(field,order,one,other,value)
     """),
+    (symbols, "is_odd(turn) is_near_one(turn) near_power(turn) symbol_over(one,other) differ_by(one,other)"),
+    (squares, """
+        two_squares(prime) cube_squares(prime) squares_with(prime,factor,*,times=1) pair_by_total(prime,order)
+        is_power_of(prime,number,order)
+    """),
+    (designs, """
+        gap_counts(field,members) is_difference_set(field,members) union_of(field,order,numbers,*,zero=False)
+        union_gaps(field,order,numbers,*,zero=False) difference_unions(field,order,*,zero=False)
+        word_of(field,order,element) weight_of(field,order,element) word_dimension(field,order)
+        weights_by_class(field,order) weight_counts(field,order)
+    """),
+    (bench, "is_pledge(value)"),
 )
 
 SEVEN = fields.Field(7)
@@ -142,6 +162,12 @@ CLASSES = (
         __init__(self,order,rows) multiplied(self,other) joined(self,other) shared(self,other)
         parted(self,other) is_within(self,other) lifted_by(self,many) moved(self,unit)
      """, "", "__contains__ __len__ __iter__ __eq__ __str__", "order rows size"),
+    (bench.Bench, bench, bench.Bench(SEVEN), """
+        __init__(self,field) put(self,name,turn) load(self,name,equation) blend(self,name,one,other)
+        weave(self,name,one,other) spin(self,name,unit) aim(self,name,element) drop(self,name) rename(self,names)
+        demand(self,pledge) waive(self,pledge) undo(self,*,many=1) redo(self,*,many=1) trial(self)
+        during(self,call) twin(self) turn_named(self,name) equation_named(self,name)
+     """, "", "__contains__ __len__ __iter__ __eq__ __str__", "field names lines pledges changes"),
 )
 
 

@@ -16,7 +16,8 @@ NODES = (
     ast.Tuple, ast.List, ast.Dict, ast.ListComp, ast.DictComp, ast.comprehension, ast.IfExp, ast.Starred,
     ast.BoolOp, ast.And, ast.Or, ast.UnaryOp, ast.Not, ast.USub, ast.BinOp, ast.Add, ast.Sub, ast.Mult,
     ast.FloorDiv, ast.Mod, ast.Pow, ast.Compare, ast.Eq, ast.NotEq, ast.Lt, ast.LtE, ast.Gt, ast.GtE, ast.In,
-    ast.NotIn, ast.Is, ast.IsNot, ast.JoinedStr, ast.FormattedValue, ast.Yield,
+    ast.NotIn, ast.Is, ast.IsNot, ast.JoinedStr, ast.FormattedValue, ast.Yield, ast.With,
+    ast.withitem,
 )
 BUILTINS = set(
     "len range enumerate zip min max sum abs sorted reversed int str bool list tuple dict isinstance ord repr any all"
@@ -25,7 +26,7 @@ BUILTINS = set(
 )
 METHODS = set(
     "append clear copy count endswith extend find get index insert items join keys pop remove replace reverse"
-    " setdefault split startswith strip update values partition removeprefix".split()
+    " setdefault split startswith strip update values partition removeprefix zfill".split()
 )
 DOUBLE = set("__init__ __eq__ __repr__ __str__ __len__ __enter__ __exit__ __iter__ __contains__".split())
 NOWHERE = set("register mro elements open input law version_info with_traceback add_note type".split())

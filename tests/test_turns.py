@@ -406,6 +406,13 @@ class Texts(unittest.TestCase):
         for value in all_kinds():
             assert_raises(self, ParseError, 0, Turn.read, value)
 
+    def test_long_numbers(self):
+        for number in (10 ** 60 - 1, 7 ** 40, 10 ** 59 + 3, 2):
+            for many in (1, 2, 3, 30, 60):
+                told = number ** many
+                self.assertEqual(str(Turn(1, (number,)).raised(many)), f"{told} order 1")
+                self.assertEqual(str(Turn(3, (0, -number)).raised(3).scaled(told % 997)), f"-{number ** 3 * (told % 997)} order 3")
+
 
 if __name__ == "__main__":
     unittest.main()

@@ -71,6 +71,17 @@ def first_powers(base, many):
     return powers
 
 
+def residue_power(modulus, residue, exponent):
+    """What the power of a residue leaves, by squaring."""
+    power = 1 % modulus
+    while exponent > 0:
+        if exponent % 2 == 1:
+            power = power * residue % modulus
+        residue = residue * residue % modulus
+        exponent = exponent // 2
+    return power
+
+
 def common_divisor(numbers):
     """The greatest integer that divides all integers of a tuple; 0 if there are only zeros."""
     if not isinstance(numbers, tuple) or not all([is_integer(number) for number in numbers]):

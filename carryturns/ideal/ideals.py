@@ -14,6 +14,7 @@ from carryturns.field.fields import check_field, check_order
 from carryturns.place.places import check_place, place_of_field, places
 from carryturns.table.tables import is_table
 from carryturns.turn.rings import TurnRing
+from carryturns.turn.texts import number_text
 from carryturns.turn.turns import Turn, check_turning, is_turn_order, made_turn
 
 MAX_RANK = 8
@@ -192,7 +193,7 @@ class Ideal:
 
 def rows_text(rows):
     """The text of rows, one behind the other."""
-    return "/".join([" ".join([str(entry) for entry in row]) for row in rows])
+    return "/".join([" ".join([number_text(entry) for entry in row]) for row in rows])
 
 
 def whole_ideal(order):

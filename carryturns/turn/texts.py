@@ -2,14 +2,25 @@
 
 DIGITS = "0123456789"
 MAX_DIGITS = 60
+PART = 10 ** 60
+
+
+def number_text(number):
+    """The digits of an integer of at least 0, however many there are."""
+    parts = []
+    # Python itself tells no integer of more than 4300 digits.
+    while number >= PART:
+        number, low = divmod(number, PART)
+        parts.append(str(low).zfill(MAX_DIGITS))
+    return str(number) + "".join(parts[::-1])
 
 
 def term_text(at, entry, is_first):
     """The text of an entry other than 0, with its power of z."""
     sign = "-" if entry < 0 else "" if is_first else "+"
     if at == 0:
-        return f"{sign}{abs(entry)}"
-    factor = "" if abs(entry) == 1 else str(abs(entry))
+        return f"{sign}{number_text(abs(entry))}"
+    factor = "" if abs(entry) == 1 else number_text(abs(entry))
     exponent = "" if at == 1 else f"^{at}"
     return f"{sign}{factor}z{exponent}"
 

@@ -1,0 +1,1 @@
+"""Difference sets and words made of the classes of a field."""

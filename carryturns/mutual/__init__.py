@@ -1,0 +1,1 @@
+"""Reciprocity of symbols, and primes as sums of squares."""

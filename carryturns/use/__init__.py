@@ -1,0 +1,1 @@
+"""A bench on which turn numbers and equations are kept."""
