@@ -2,7 +2,7 @@
 
 from carryturns.above.towers import MAX_FOLD, MAX_TOWER, Tower
 from carryturns.base.newton import sums_of_entries
-from carryturns.base.numbers import check_count, first_powers, is_integer
+from carryturns.base.numbers import check_count, first_powers, is_integer, units_of
 from carryturns.count.amounts import all_shares, amount_with, count_shares, sum_of_weights
 from carryturns.count.equations import MAX_TRIED, check_equation, check_shares
 from carryturns.errors import InvalidCount, InvalidOperation, InvalidPolynomial, TooMany
@@ -99,17 +99,46 @@ def check_polynomial_of(equation):
         raise TooMany(MAX_POLY_SHARES)
 
 
-def poly_of_shares(equation, shares):
-    """The tuple of the entries of the product of all factors that some shares tell."""
+def factor_of_orbit(equation, share, orbit):
+    """The entries of the product of all factors that a share, multiplied by units, tells.
+
+    The factors are turned into one another, so their product has integers.
+    """
     order = equation.order
-    sign = sign_by(len(equation))
+    step = amount_with(equation, share).scaled(sign_by(len(equation)))
     turns = [Turn.whole(order, 1)]
-    for share in shares:
-        step = amount_with(equation, share).scaled(sign)
-        more = [turn.times(step) for turn in turns]
+    for unit in orbit:
+        turned = step.turned(unit)
+        more = [turn.times(turned) for turn in turns]
         zero = [Turn.whole(order, 0)]
         turns = [one.plus(other) for one, other in zip(turns + zero, zero + more)]
-    return tuple([integer_in(turn, 1) for turn in turns])
+    return [integer_in(turn, 1) for turn in turns]
+
+
+def product_of_polys(one, other):
+    """The list of the entries of the product of two polynomials with integers."""
+    found = [0] * (len(one) + len(other) - 1)
+    for at, factor in enumerate(one):
+        end = at + len(other)
+        found[at:end] = [total + factor * entry for total, entry in zip(found[at:end], other)]
+    return found
+
+
+def poly_of_shares(equation, shares):
+    """The tuple of the entries of the product of all factors that some shares tell, with all turned ones."""
+    order = equation.order
+    poly = [1]
+    taken = {}
+    for share in shares:
+        orbit = []
+        for unit in units_of(order):
+            image = tuple([index * unit % order for index in share])
+            if image not in taken:
+                taken[image] = True
+                orbit.append(unit)
+        if len(orbit) > 0:
+            poly = product_of_polys(poly, factor_of_orbit(equation, share, orbit))
+    return tuple(poly)
 
 
 def count_polynomial(equation):

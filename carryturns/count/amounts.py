@@ -5,7 +5,8 @@ A share has for each term an index other than 0 whose character is 1 at all powe
 
 from carryturns.character.characters import sign_of
 from carryturns.total.totals import all_totals, product_of_split, split_of
-from carryturns.turn.turns import Turn, integer_in
+from carryturns.turn.rings import TurnRing
+from carryturns.turn.turns import Turn, integer_in, made_turn
 
 
 def indices_for(equation):
@@ -78,17 +79,21 @@ def amount_with(equation, share):
 
 
 def step_factor(equation, totals, at, rest, index):
-    """What an index of a term makes of the product so far, when the indices ahead leave a rest."""
+    """The entries that tell what an index of a term makes of the product so far, ahead of which a rest is left.
+
+    These are the factors of the sum J of all indices.
+    """
     field = equation.field
     order = equation.order
+    zeros = totals[0][0].entries[1:]
     if at == 0:
-        return Turn.whole(order, 1)
+        return (1,) + zeros
     if equation.goal == 0 and at == len(equation.terms) - 1:
-        return Turn.whole(order, sign_of(field, order, index))
+        return (sign_of(field, order, index),) + zeros
     if rest == 0:
         # By Gauss sums: J(a, -a) is minus the sign of a, and J(a, -a, b) the sign of a times q.
-        return Turn.whole(order, -field.size)
-    return totals[rest][index]
+        return (-field.size,) + zeros
+    return totals[rest][index].entries
 
 
 def is_kept(equation, at, rest):
@@ -99,19 +104,25 @@ def is_kept(equation, at, rest):
 def longer_sums(equation, totals, at, sums, many):
     """The dict from the rests of indices up to a term to the sums of the products that go with them.
 
-    The dict of the sums for the indices ahead of this term is passed.
+    The dict of the sums for the indices ahead of this term is passed. All sums are told by entries.
     """
     order = equation.order
+    ring = TurnRing(order)
     longer = {}
     for index in indices_for(equation)[at]:
-        root = Turn.power(order, value_exponent(equation, at, index))
+        exponent = value_exponent(equation, at, index)
         for rest, ahead in sums.items():
             both = (rest + index) % order
             if is_kept(equation, at, both):
-                factor = step_factor(equation, totals, at, rest, index).times(root).raised(many)
-                product = ahead.times(factor)
-                longer[both] = longer[both].plus(product) if both in longer else product
+                factor = ring.rolled(step_factor(equation, totals, at, rest, index), exponent)
+                product = ring.product(ahead, ring.powered(factor, many))
+                longer[both] = added(longer[both], product) if both in longer else product
     return longer
+
+
+def added(one, other):
+    """The sum of two turn numbers, told by their entries."""
+    return tuple([first + second for first, second in zip(one, other)])
 
 
 def sum_of_weights(equation, many):
@@ -122,10 +133,10 @@ def sum_of_weights(equation, many):
     """
     order = equation.order
     totals = all_totals(equation.field, order)
-    sums = {0: Turn.whole(order, 1)}
+    sums = {0: Turn.whole(order, 1).entries}
     for at in range(len(equation.terms)):
         sums = longer_sums(equation, totals, at, sums, many)
-    total = Turn.whole(order, 0)
+    total = Turn.whole(order, 0).entries
     for rest in sums:
-        total = total.plus(sums[rest])
-    return integer_in(total, 1)
+        total = added(total, sums[rest])
+    return integer_in(made_turn(order, None, total), 1)

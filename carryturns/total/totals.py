@@ -1,11 +1,14 @@
 """Sums J: products of values of characters, added up over all tuples of elements whose sum is 1."""
 
+from math import gcd
+
 from carryturns.base.numbers import first_powers, is_integer
 from carryturns.character.characters import are_turns, sign_of
 from carryturns.errors import InvalidCharacter, InvalidPaper, InvalidTable, InvalidTurn
 from carryturns.field.fields import check_field, check_order
 from carryturns.table.tables import class_table, frozen, is_square, is_table
-from carryturns.turn.turns import Turn, integer_in, stepped_sum, turn_of_sums
+from carryturns.turn.rings import TurnRing
+from carryturns.turn.turns import Turn, integer_in, made_turn, stepped_sum, turn_of_sums
 
 MAX_TERMS = 6
 
@@ -122,13 +125,43 @@ def split_value(field, order, split):
     return product_of_split(field, order, split)
 
 
-def total_of_table(field, order, table, one, other):
-    """What a table makes of two indices."""
+def cells_of(table):
+    """The list of the rows, the columns and the entries of a table, where these are not 0."""
+    return [(at, to, many) for at, row in enumerate(table) for to, many in enumerate(row) if many != 0]
+
+
+def sums_of_cells(field, order, cells, one, other):
+    """The list of how often each power of z is there in what the cells of a table make of two indices."""
     sums = [0] * order
-    for at, row in enumerate(table):
-        for to, many in enumerate(row):
-            sums[(one * at + other * to) % order] += many
-    return turn_of_sums(order, sums).scaled(sign_of(field, order, one))
+    for at, to, many in cells:
+        place = (one * at + other * to) % order
+        sums[place] = sums[place] + many
+    return sums if sign_of(field, order, one) == 1 else [-many for many in sums]
+
+
+def inverse_pairs(order):
+    """The list of the pairs of a unit modulo the order, from 1 on, and of the unit that makes 1 with it."""
+    units = [unit for unit in range(1, order + 1) if gcd(unit, order) == 1]
+    return [(unit, other) for unit in units for other in units if (unit * other - 1) % order == 0]
+
+
+def rows_of_totals(field, order, table):
+    """The list of the lists of what a table makes of two indices."""
+    ring = TurnRing(order)
+    cells = cells_of(table)
+    pairs = inverse_pairs(order)
+    places = list(range(order))
+    rows = [[None] * order for _ in places]
+    for one, other in [(one, other) for one in places for other in places]:
+        if rows[one][other] is None:
+            sums = sums_of_cells(field, order, cells, one, other)
+            # Turned by a unit, it is what the table makes of the indices, multiplied by the unit.
+            for unit, back in pairs:
+                row, column = unit * one % order, unit * other % order
+                if rows[row][column] is None:
+                    entries = ring.reduced([sums[back * at % order] for at in places])
+                    rows[row][column] = made_turn(order, ring, entries)
+    return rows
 
 
 def all_totals(field, order):
@@ -143,8 +176,7 @@ def totals_by_table(field, order, table):
     check_order(field, order)
     if not is_table(order, table) or not all([0 <= entry <= MAX_ENTRY for row in table for entry in row]):
         raise InvalidTable("no table of integers from 0 to 512")
-    rows = [[total_of_table(field, order, table, one, other) for other in range(order)] for one in range(order)]
-    return frozen(rows)
+    return frozen(rows_of_totals(field, order, table))
 
 
 def table_by_totals(field, order, totals):

@@ -1,54 +1,58 @@
 """The entries of turn numbers of one order, reckoned with; nothing is checked here."""
 
-from carryturns.base.numbers import count_units, prime_powers, units_of
+from carryturns.base.numbers import prime_powers, units_of
+from carryturns.turn.polys import LOWER_TERMS, WIDTHS
+
+
+def width_of(order):
+    """The number of the entries of a turn number, which is that of the units modulo the order."""
+    return WIDTHS[order]
 
 
 def cyclotomic_entries(order):
     """The tuple of the entries of a cyclotomic polynomial, that of the power 0 first."""
-    width = count_units(order) + 1
-    # It is the product of all 1 - X ** (order / d), for d the products of different primes that
-    # divide the order, those of an odd number of primes as divisors. A series stops at the width.
-    steps = [(order, True)]
-    for prime in prime_powers(order):
-        steps = steps + [(step // prime, not is_factor) for step, is_factor in steps]
-    series = [1] + [0] * (width - 1)
-    for step, is_factor in steps:
-        if is_factor:
-            for at in reversed(range(step, width)):
-                series[at] = series[at] - series[at - step]
-        else:
-            for at in range(step, width):
-                series[at] = series[at] + series[at - step]
-    # Only for the order 1 there is no even number of signs.
-    return tuple(series) if order > 1 else (-1, 1)
+    entries = [0] * WIDTHS[order] + [1]
+    for at, entry in LOWER_TERMS[order]:
+        entries[at] = entry
+    return tuple(entries)
 
 
 class TurnRing:
     """What the turn numbers of an order have in common."""
 
     def __init__(self, order):
-        poly = cyclotomic_entries(order)
+        is_even = order % 2 == 0
         self._order = order
-        self._width = len(poly) - 1
-        self._lower = tuple([(at, entry) for at, entry in enumerate(poly[:-1]) if entry != 0])
+        self._width = WIDTHS[order]
+        self._lower = LOWER_TERMS[order]
+        # For even orders, z to the power of half the order is -1.
+        self._period = order // 2 if is_even else order
+        self._sign = -1 if is_even else 1
 
     def reduced(self, sums):
         """The entries of a sum of powers of z, told by a list of how often each power is there.
 
         The list has an item for each power that an entry belongs to, and perhaps more.
         """
-        order = self._order
+        rest = self._folded(sums)
         width = self._width
-        rest = list(sums[:order])
-        length = len(rest)
-        for at, many in enumerate(sums[order:]):
-            rest[at % order] = rest[at % order] + many
-        for at in reversed(range(width, length)):
+        for at in reversed(range(width, len(rest))):
             last = rest[at]
             if last != 0:
                 for to, entry in self._lower:
                     rest[at - width + to] = rest[at - width + to] - last * entry
         return tuple(rest[:width])
+
+    def _folded(self, sums):
+        # The list of as many items as there are powers of z without a sign.
+        period = self._period
+        rest = list(sums[:period])
+        sign = self._sign
+        for start in range(period, len(sums), period):
+            part = sums[start:start + period]
+            rest[:len(part)] = [many + sign * more for many, more in zip(rest, part)]
+            sign = sign * self._sign
+        return rest
 
     def root(self, many):
         """The entries of z to the power many."""
@@ -72,14 +76,18 @@ class TurnRing:
 
     def powered(self, entries, exponent):
         """The entries of a power, by squaring."""
-        power = self.whole_entries(1)
+        power = None
         while exponent > 0:
             if exponent % 2 == 1:
-                power = self.product(power, entries)
+                power = entries if power is None else self.product(power, entries)
             exponent = exponent // 2
             if exponent > 0:
                 entries = self.product(entries, entries)
-        return power
+        return self.whole_entries(1) if power is None else power
+
+    def rolled(self, entries, exponent):
+        """The entries of the product with a power of z, with an exponent of at least 0."""
+        return self.reduced([0] * (exponent % self._order) + list(entries))
 
     def turned_by(self, entries, unit):
         """The entries with z ** unit in the place of z."""

@@ -2,11 +2,9 @@
 
 from math import gcd
 
-from carryturns.base.numbers import (
-    MAX_FACTORED, check_count, check_integer, check_prime, count_units, is_integer,
-)
+from carryturns.base.numbers import MAX_FACTORED, check_count, check_integer, check_prime, is_integer
 from carryturns.errors import InvalidCount, InvalidOperation, InvalidOrder, InvalidTurn, ParseError
-from carryturns.turn.rings import TurnRing, cyclotomic_entries, lifted_entries, lowered_entries
+from carryturns.turn.rings import TurnRing, cyclotomic_entries, lifted_entries, lowered_entries, width_of
 from carryturns.turn.texts import entries_in, entries_text, number_in
 
 MAX_ORDER = 60
@@ -39,7 +37,7 @@ def check_turning(unit, order):
 
 def is_entries(order, value):
     """Whether the value is a tuple of as many integers as the order has units."""
-    if not isinstance(value, tuple) or len(value) != count_units(order):
+    if not isinstance(value, tuple) or len(value) != width_of(order):
         return False
     return all([is_integer(entry) for entry in value])
 
@@ -121,7 +119,7 @@ class Turn:
         order = number_in(last)
         if order is None or not is_turn_order(order):
             raise ParseError(0)
-        entries = entries_in(terms, count_units(order))
+        entries = entries_in(terms, width_of(order))
         if entries is None or text != f"{entries_text(entries)} order {order}":
             raise ParseError(0)
         return cls(order, entries)
