@@ -5,6 +5,7 @@ import random
 import unittest
 
 from carryturns.errors import ParseError
+from carryturns.turn.polys import LOWER_TERMS, WIDTHS
 from carryturns.turn.turns import Turn, cyclotomic
 from tests import plain_turns as plain
 from tests.support import all_kinds, assert_raises
@@ -42,6 +43,13 @@ class Polynomials(unittest.TestCase):
             self.assertEqual(poly, plain.cyclotomic(order))
         self.assertEqual([cyclotomic(1), cyclotomic(2), cyclotomic(7), cyclotomic(60)],
                          [(-1, 1), (1, 1), (1,) * 7, (1, 0, 1, 0, 0, 0, -1, 0, -1, 0, -1, 0, 0, 0, 1, 0, 1)])
+
+    def test_the_written_ones(self):
+        self.assertEqual((len(WIDTHS), len(LOWER_TERMS), WIDTHS[0], LOWER_TERMS[0]), (61, 61, 0, ()))
+        for order in range(1, 61):
+            poly = plain.cyclotomic(order)
+            self.assertEqual(WIDTHS[order], len(plain.units(order)))
+            self.assertEqual(LOWER_TERMS[order], tuple((at, entry) for at, entry in enumerate(poly[:-1]) if entry))
 
 
 class Making(unittest.TestCase):

@@ -1,21 +1,12 @@
 """Towers: the fields above a finite field, with tuples of its codes as elements."""
 
-from carryturns.above.steps import CodeTables
+from carryturns.above.steps import FieldSteps, TowerSteps
 from carryturns.base.numbers import check_count, first_powers
 from carryturns.errors import InvalidElement, TooMany
 from carryturns.field.fields import check_element, check_field
 
 MAX_TOWER = 4096
 MAX_FOLD = 12
-
-
-def tower_parts(field, many):
-    """The pair of the polynomial of a tower and of the list of all its elements but 0, as powers."""
-    if many == 1:
-        return (0, 1), [(field.power_of(log),) for log in range(field.size - 1)]
-    tables = CodeTables(field)
-    poly = tables.least_poly(many)
-    return poly, tables.powers_in(poly)
 
 
 class Tower:
@@ -27,14 +18,12 @@ class Tower:
         size = first_powers(field.size, many)[-1]
         if size > MAX_TOWER:
             raise TooMany(MAX_TOWER)
-        poly, powers = tower_parts(field, many)
         self._field = field
         self._fold = many
         self._size = size
-        self._poly = poly
+        self._steps = FieldSteps(field) if many == 1 else TowerSteps(field, many)
+        self._poly = self._steps.told_poly()
         self._zero = (0,) * many
-        self._powers = tuple(powers)
-        self._logs = {element: log for log, element in enumerate(powers)}
 
     @property
     def field(self):
@@ -60,35 +49,34 @@ class Tower:
         """The sum of two elements."""
         self._check_member(one)
         self._check_member(other)
-        return tuple([self._field.plus(first, second) for first, second in zip(one, other)])
+        return self._steps.sum_of(one, other)
 
     def times(self, one, other):
         """The product of two elements."""
         self._check_member(one)
         self._check_member(other)
-        if one == self._zero or other == self._zero:
-            return self._zero
-        return self._element_at(self._logs[one] + self._logs[other])
+        return self._steps.times(one, other)
 
     def raised(self, one, number):
         """The power of an element with an exponent of at least 0."""
         self._check_member(one)
         check_count(number, 0)
         if number == 0:
-            return self._powers[0]
-        if one == self._zero:
-            return self._zero
-        return self._element_at(self._logs[one] * number)
+            return self.embedded(1)
+        return self._steps.raised(one, number)
 
     def norm_of(self, one):
         """The code that is the product of the element, raised to all powers of q below the size."""
-        return self.raised(one, sum(first_powers(self._field.size, self._fold - 1)))[0]
+        product = self.embedded(1)
+        for power in self._conjugates(one):
+            product = self._steps.times(product, power)
+        return product[0]
 
     def trace_of(self, one):
         """The code that is the sum of the element, raised to all powers of q below the size."""
         total = self._zero
-        for power in first_powers(self._field.size, self._fold - 1):
-            total = self.plus(total, self.raised(one, power))
+        for power in self._conjugates(one):
+            total = self._steps.sum_of(total, power)
         return total[0]
 
     def embedded(self, code):
@@ -103,8 +91,13 @@ class Tower:
         for number in range(self._size):
             yield tuple([number // place % size for place in reversed(places)])
 
-    def _element_at(self, log):
-        return self._powers[log % len(self._powers)]
+    def _conjugates(self, one):
+        # The element, raised to all powers of q below the size, each one the power of the one ahead.
+        self._check_member(one)
+        powers = [one]
+        for _ in range(self._fold - 1):
+            powers.append(self._steps.raised(powers[-1], self._field.size))
+        return powers
 
     def _check_member(self, value):
         if not isinstance(value, tuple) or len(value) != self._fold:

@@ -5,7 +5,7 @@ from math import gcd
 from carryturns.base.numbers import order_modulo
 from carryturns.errors import InvalidElement, InvalidOperation, TooMany
 from carryturns.field.fields import check_element, check_field, check_order, opposite_class
-from carryturns.field.traces import traces_of
+from carryturns.field.lists import sums_with, traces_of
 from carryturns.table.tables import class_table
 from carryturns.total.totals import is_index
 
@@ -41,19 +41,6 @@ def check_union(field, order, numbers, zero):
     if not is_ascending(numbers):
         raise InvalidOperation("numbers that do not ascend")
     check_flag(zero)
-
-
-def sums_with(field, element):
-    """The list of the sums of all elements, ascending, and of one element."""
-    prime = field.prime
-    sums = [0]
-    place = 1
-    while place < field.size:
-        # Elements are added digit by digit, without carries.
-        digit = element // place % prime
-        sums = [(digit + other) % prime * place + low for other in range(prime) for low in sums]
-        place = place * prime
-    return sums
 
 
 def count_gaps(field, members):

@@ -5,7 +5,7 @@ from math import gcd
 from carryturns.base.numbers import check_count, check_prime, digits_of, is_integer
 from carryturns.errors import InvalidCharacter, InvalidCount, InvalidOperation, InvalidOrder, InvalidWave
 from carryturns.field.fields import check_element, check_field
-from carryturns.field.traces import trace_counts
+from carryturns.field.lists import trace_counts
 from carryturns.total.totals import is_index
 from carryturns.turn.rings import TurnRing
 from carryturns.turn.turns import Turn, check_turn, made_turn
