@@ -53,7 +53,8 @@ def value_counts(tower, factor, exponent):
     """The dict that tells how often a term has a value, for all elements of a tower."""
     counts = {}
     above = tower.embedded(factor)
-    for element in tower.members():
+    rows = list(tower.members())
+    for element in rows:
         value = tower.times(above, tower.raised(element, exponent))
         counts[value] = counts.get(value, 0) + 1
     return counts

@@ -73,13 +73,23 @@ def is_told(rows, row, number):
     return True
 
 
+def rows_led_into(rows, images, told, number):
+    """The least rows of all sums of multiples of some rows whose images other least rows tell.
+
+    Each of the rows has one image, a sum has the sum of their images, and the least rows tell the
+    multiples of a number in each place.
+    """
+    width = len(told)
+    # As for shared rows: where the image is made 0 by what is told, the sum is in the second half.
+    both = [list(image) + list(row) for image, row in zip(images, rows)]
+    both = both + [list(row) + [0] * width for row in told]
+    found = least_rows(2 * width, both, number)
+    return tuple([row[width:] for row in found[width:]])
+
+
 def shared_rows(one, other, number):
     """The least rows of what both least rows tell; they tell the multiples of a number in each place."""
-    width = len(one)
-    # What both tell is the difference of two equal sums: 0 in the first half, the sum in the second.
-    both = [list(row) + list(row) for row in one] + [list(row) + [0] * width for row in other]
-    rows = least_rows(2 * width, both, number)
-    return tuple([row[width:] for row in rows[width:]])
+    return rows_led_into(one, one, other, number)
 
 
 def has_least_form(width, value):

@@ -3,19 +3,26 @@
 A class of a share exponent is told by a log; what holds of one element of it holds of all.
 """
 
-from math import gcd
+from math import gcd, lcm
 
 
 def counts_by_class(field, terms, order):
     """The list of the numbers of solutions for a goal of each class of an order, and for the goal 0."""
     # Without terms, 0 is the only sum.
-    counts = [0] * order + [1]
-    for factor, exponent in terms:
-        share = gcd(exponent, field.size - 1)
+    counts = [0, 1]
+    # Terms with few classes come first: so long there are few classes of goals, too.
+    pairs = sorted([(gcd(exponent, field.size - 1), factor) for factor, exponent in terms])
+    for share, factor in pairs:
         first = field.log_of(field.opposite(factor))
         logs = list(range(first, first + field.size - 1, share))
-        counts = counts_with_term(field, counts, logs, share)
-    return counts
+        counts = counts_with_term(field, counts_for(counts, share), logs, share)
+    return counts_for(counts, order)
+
+
+def counts_for(counts, share):
+    """The counts, told for the classes of the least multiple of their order and of another one."""
+    order = len(counts) - 1
+    return [counts[number % order] for number in range(lcm(order, share))] + [counts[-1]]
 
 
 def counts_with_term(field, counts, logs, share):
@@ -27,11 +34,9 @@ def counts_with_term(field, counts, logs, share):
     nexts = field.next_logs()
     found = []
     for goal in range(order):
-        total = 0
-        for log in logs:
-            # What is left of the goal for the terms so far: the goal times 1 and a quotient.
-            step = nexts[(log - goal) % len(nexts)]
-            total += counts[-1] if step is None else counts[(goal + step) % order]
+        # What is left of the goal for the terms so far: the goal times 1 and a quotient.
+        steps = [nexts[(log - goal) % len(nexts)] for log in logs]
+        total = sum([counts[-1] if step is None else counts[(goal + step) % order] for step in steps])
         found.append(counts[goal] + share * total)
     found.append(counts[-1] + share * sum([counts[log % order] for log in logs]))
     return found

@@ -43,16 +43,27 @@ def check_union(field, order, numbers, zero):
     check_flag(zero)
 
 
-def count_gaps(field, members):
+def count_differences(field, members):
     """The list that has for each element how often it is the difference of two of the members."""
-    is_member = [0] * field.size
+    counts = [0] * field.size
     for member in members:
-        is_member[member] = 1
-    counts = []
-    for element in field:
-        sums = sums_with(field, element)
-        counts.append(sum([is_member[sums[member]] for member in members]))
+        differences = sums_with(field, field.opposite(member))
+        for other in members:
+            counts[differences[other]] += 1
     return counts
+
+
+def count_gaps(field, members):
+    """The list that has for each element how often it is a gap of the members, and a rest for 0."""
+    many = len(members)
+    if 2 * many <= field.size:
+        return count_differences(field, members)
+    # Of all elements x, x and x - y are both members, or one of them alone, or none.
+    is_member = [False] * field.size
+    for member in members:
+        is_member[member] = True
+    others = [element for element in field if not is_member[element]]
+    return [less + 2 * many - field.size for less in count_differences(field, others)]
 
 
 def gap_counts(field, members):

@@ -2,7 +2,9 @@
 
 from math import gcd
 
-from carryturns.base.lattices import has_least_form, is_told, least_rows, shared_rows
+from carryturns.base.lattices import (
+    has_least_form, is_told, least_rows, rows_led_into, shared_rows,
+)
 from carryturns.base.numbers import (
     check_count, count_units, digits_of, is_integer, is_prime, order_modulo, prime_powers, units_of,
 )
@@ -134,12 +136,14 @@ class Ideal:
         self._check_other(other)
         if not self._is_in(other):
             return None
-        # The other one, turned by all units, makes the ideal of its size.
-        product = self
-        for unit in units_of(self._order)[1:]:
-            product = product.multiplied(other.moved(unit))
-        rows = [tuple([entry // other.size for entry in row]) for row in product.rows]
-        return made_ideal(self._order, tuple(rows))
+        # All turn numbers whose products with each member of the other one are in this one.
+        ring = TurnRing(self._order)
+        rows = whole_ideal(self._order).rows
+        for member in other.rows:
+            images = [ring.product(row, member) for row in rows]
+            if not all([is_told(self._rows, image, self._size) for image in images]):
+                rows = rows_led_into(rows, images, self._rows, self._size)
+        return made_ideal(self._order, rows)
 
     def is_within(self, other):
         """Whether the other one has all members of this one."""

@@ -3,7 +3,7 @@
 from math import gcd
 
 from carryturns.base.newton import determinant_of, entries_of_sums, sums_of_entries
-from carryturns.base.numbers import check_count, check_integer, check_prime, is_integer
+from carryturns.base.numbers import check_count, check_integer, check_prime, digits_of, is_integer
 from carryturns.base.residues import row_factors
 from carryturns.errors import InvalidOperation, InvalidPeriod, InvalidPolynomial, TooMany
 from carryturns.field.fields import check_field, check_order, opposite_class
@@ -144,9 +144,14 @@ class PeriodRing:
         """The power of a period with an exponent from 0 to 20."""
         self._check_period(period)
         check_count(many, 0, MAX_RAISED)
-        power = self._one
-        for _ in range(many):
-            power = product_by(self._products, power, period)
+        if many == 0:
+            return self._one
+        power = period
+        # From the second digit of the exponent to the base 2 on.
+        for digit in reversed(digits_of(many, 2)[:-1]):
+            power = product_by(self._products, power, power)
+            if digit == 1:
+                power = product_by(self._products, power, period)
         return power
 
     def matrix_of(self, period):

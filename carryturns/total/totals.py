@@ -152,15 +152,15 @@ def rows_of_totals(field, order, table):
     pairs = inverse_pairs(order)
     places = list(range(order))
     rows = [[None] * order for _ in places]
-    for one, other in [(one, other) for one in places for other in places]:
+    for one, other in [(row, column) for row in places for column in places]:
         if rows[one][other] is None:
             sums = sums_of_cells(field, order, cells, one, other)
             # Turned by a unit, it is what the table makes of the indices, multiplied by the unit.
             for unit, back in pairs:
-                row, column = unit * one % order, unit * other % order
-                if rows[row][column] is None:
+                first, second = unit * one % order, unit * other % order
+                if rows[first][second] is None:
                     entries = ring.reduced([sums[back * at % order] for at in places])
-                    rows[row][column] = made_turn(order, ring, entries)
+                    rows[first][second] = made_turn(order, ring, entries)
     return rows
 
 
