@@ -204,6 +204,7 @@ THEN = (
     (symbols.differ_by, (FIFTH, FIFTH), errors.InvalidOperation, None),
     (symbols.differ_by, (FIFTH, Turn.whole(5, 2)), errors.InvalidOperation, None),
     (symbols.differ_by, (Turn.whole(5, 5), FIFTH), errors.InvalidOperation, None),
+    *[(symbols.differ_by, (Turn(5, entries), FIFTH), errors.InvalidOperation, None) for entries in ((2, 5, 0, 0), (2, 0, 5, 0), (2, 0, 0, 5))],
     (symbols.differ_by, (Turn.whole(5, 2), FIFTH.times(Turn.power(5, 1))), errors.InvalidOperation, None),
     *[(squares.two_squares, (prime,), errors.InvalidOperation, None) for prime in (2, 3, 7, 11, 999983)],
     *[(squares.cube_squares, (prime,), errors.InvalidOperation, None) for prime in (2, 3, 5, 11, 999983)],

@@ -11,15 +11,13 @@ def less_row(row, other, factor, number):
 
 
 def common_factors(one, other):
-    """The common divisor of two integers, one above 0, and what they are multiplied by to add up to it."""
+    """The common divisor of two integers above 0, and what they are multiplied by to add up to it."""
     factors = (1, 0)
     nexts = (0, 1)
     while other != 0:
         quotient = one // other
         one, other = other, one - quotient * other
         factors, nexts = nexts, (factors[0] - quotient * nexts[0], factors[1] - quotient * nexts[1])
-    if one < 0:
-        return -one, -factors[0], -factors[1]
     return one, factors[0], factors[1]
 
 
