@@ -2,12 +2,9 @@
 
 from math import gcd
 
-from carryturns.base.lattices import (
-    has_least_form, is_told, least_rows, rows_led_into, shared_rows,
-)
-from carryturns.base.numbers import (
-    check_count, count_units, digits_of, is_integer, is_prime, order_modulo, prime_powers, units_of,
-)
+from carryturns.base.lattices import has_least_form, is_told, least_rows, rows_led_into, shared_rows
+from carryturns.base.numbers import check_count, count_units, digits_of, is_integer, is_prime
+from carryturns.base.rows import multiply_rows
 from carryturns.carry.carries import row_of_carries
 from carryturns.errors import (
     InvalidCharacter, InvalidIdeal, InvalidOperation, InvalidOrder, InvalidTurn, TooMany,
@@ -226,22 +223,30 @@ def ideal_of(order, members):
     return made_by(order, members)
 
 
+def ideal_of_factor(order, prime, row):
+    """The ideal of a prime and of a factor of the cyclotomic polynomial modulo it, put at z."""
+    width = count_units(order)
+    maker = TurnRing(order).reduced(row + (0,) * (width - len(row)))
+    return ideal_with(order, multiples_of(order, maker), prime)
+
+
 def ideal_of_place(place):
     """The ideal of a place."""
     check_place(place)
-    order = place.order
-    width = count_units(order)
-    if width > MAX_RANK:
+    if count_units(place.order) > MAX_RANK:
         raise InvalidOperation("an order with more than eight units")
-    sums = place.poly + (0,) * (width - len(place.poly))
-    maker = TurnRing(order).reduced(sums)
-    # Its size is a member, and the prime too.
-    return ideal_with(order, multiples_of(order, maker), place.prime)
+    return ideal_of_factor(place.order, place.prime, place.poly)
 
 
 def times_in(ideal, place):
-    """How often a place is in an ideal."""
-    return min([place.times_of(made_turn(ideal.order, None, row)) for row in ideal.rows])
+    """How often a place is in an ideal: as often as in each of its rows, at least."""
+    many = None
+    for row in ideal.rows:
+        # It cannot be less than 0.
+        if many is None or many > 0:
+            told = place.times_of(made_turn(ideal.order, None, row))
+            many = told if many is None else min(many, told)
+    return many
 
 
 def places_in(ideal):
@@ -283,27 +288,26 @@ def check_total(field, order, one, other):
         raise InvalidOperation("indices that add up to the order")
 
 
-def powers_modulo(prime, order):
-    """The list of the powers of a prime that leave different rests by an order."""
-    powers = [1]
-    for _ in range(order_modulo(prime, order) - 1):
-        powers.append(powers[-1] * prime % order)
-    return powers
+def carries_by_place(field, order, one, other):
+    """The dict from the polynomials of all places over the prime to how often carries tell them."""
+    place = place_of_field(field, order)
+    carries = row_of_carries(field, order, one, other)
+    backs = {unit: other for unit in carries for other in carries if (unit * other - 1) % order == 0}
+    # Units that differ by a power of the prime turn the place alike, and have as many carries.
+    return {place.turned_by(backs[unit]).poly: carries[unit] for unit in carries}
 
 
 def total_ideal(field, order, one, other):
     """The ideal of the sum J of two indices, by their carries."""
-    carries = row_of_carries(field, order, one, other)
-    first = ideal_of_place(place_of_field(field, order))
+    times = carries_by_place(field, order, one, other)
     product = whole_ideal(order)
-    taken = {}
-    for unit in carries:
-        if unit not in taken:
-            # Units that differ by a power of the prime turn the place alike.
-            for power in powers_modulo(field.prime, order):
-                taken[unit * power % order] = True
-            back = [turn for turn in carries if turn * unit % order == 1][0]
-            product = product.multiplied(first.moved(back).lifted_by(carries[unit]))
+    for least in range(1, field.degree + 1):
+        # The ideals of different places have the ideal of the product of their polynomials as product.
+        row = (1,)
+        for poly in times:
+            if times[poly] >= least:
+                row = multiply_rows(field.prime, row, poly)
+        product = product.multiplied(ideal_of_factor(order, field.prime, row))
     return product
 
 
