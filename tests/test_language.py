@@ -15,7 +15,7 @@ NODES = (
     ast.Break, ast.Continue, ast.Pass, ast.Raise, ast.Call, ast.keyword, ast.Attribute, ast.Subscript, ast.Slice,
     ast.Tuple, ast.List, ast.Dict, ast.ListComp, ast.DictComp, ast.comprehension, ast.IfExp, ast.Starred,
     ast.BoolOp, ast.And, ast.Or, ast.UnaryOp, ast.Not, ast.USub, ast.BinOp, ast.Add, ast.Sub, ast.Mult,
-    ast.FloorDiv, ast.Mod, ast.Pow, ast.Compare, ast.Eq, ast.NotEq, ast.Lt, ast.LtE, ast.Gt, ast.GtE, ast.In,
+    ast.FloorDiv, ast.Mod, ast.Pow, ast.LShift, ast.Compare, ast.Eq, ast.NotEq, ast.Lt, ast.LtE, ast.Gt, ast.GtE, ast.In,
     ast.NotIn, ast.Is, ast.IsNot, ast.JoinedStr, ast.FormattedValue, ast.Yield, ast.With,
     ast.withitem,
 )
@@ -26,7 +26,7 @@ BUILTINS = set(
 )
 METHODS = set(
     "append clear copy count endswith extend find get index insert items join keys pop remove replace reverse"
-    " setdefault split startswith strip update values partition removeprefix zfill".split()
+    " setdefault split startswith strip update values partition removeprefix zfill bit_length".split()
 )
 DOUBLE = set("__init__ __eq__ __repr__ __str__ __len__ __enter__ __exit__ __iter__ __contains__".split())
 NOWHERE = set("register mro elements open input law version_info with_traceback add_note type".split())
@@ -373,6 +373,15 @@ class Language(unittest.TestCase):
                     changed = {place for row in rows for place in places_changed(row)}
                     walked = walked_in(loop.iter)
                     self.assertFalse(together(groups, walked) & together(groups, changed), (module, loop.iter.lineno))
+
+    def test_what_is_modified_does_not_stand_in_the_head_of_the_loop(self):
+        for module, function in self.nodes(ast.FunctionDef):
+            groups = names_together(function)
+            for loop in ast.walk(function):
+                if isinstance(loop, ast.For):
+                    head = {place_of(node) for node in ast.walk(loop.iter)} - {None}
+                    changed = {place for row in loop.body for place in places_changed(row)}
+                    self.assertFalse(together(groups, head) & changed, (module, loop.lineno))
 
     def test_what_is_added_is_not_what_it_is_added_to(self):
         for module, function in self.nodes(ast.FunctionDef):

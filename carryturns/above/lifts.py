@@ -3,6 +3,7 @@
 from carryturns.above.towers import MAX_FOLD, MAX_TOWER, Tower
 from carryturns.base.newton import sums_of_entries
 from carryturns.base.numbers import check_count, first_powers, is_integer, units_of
+from carryturns.base.products import multiply_entries
 from carryturns.count.amounts import all_shares, amount_with, count_shares, sum_of_weights
 from carryturns.count.equations import MAX_TRIED, check_equation, check_shares
 from carryturns.errors import InvalidCount, InvalidOperation, InvalidPolynomial, TooMany
@@ -116,15 +117,6 @@ def factor_of_orbit(equation, share, orbit):
     return [integer_in(turn, 1) for turn in turns]
 
 
-def product_of_polys(one, other):
-    """The list of the entries of the product of two polynomials with integers."""
-    found = [0] * (len(one) + len(other) - 1)
-    for at, factor in enumerate(one):
-        end = at + len(other)
-        found[at:end] = [total + factor * entry for total, entry in zip(found[at:end], other)]
-    return found
-
-
 def poly_of_shares(equation, shares):
     """The tuple of the entries of the product of all factors that some shares tell, with all turned ones."""
     order = equation.order
@@ -138,7 +130,7 @@ def poly_of_shares(equation, shares):
                 taken[image] = True
                 orbit.append(unit)
         if len(orbit) > 0:
-            poly = product_of_polys(poly, factor_of_orbit(equation, share, orbit))
+            poly = multiply_entries(poly, factor_of_orbit(equation, share, orbit))
     return tuple(poly)
 
 

@@ -26,7 +26,8 @@ def take_in(rows, row, number):
 
     The number is one whose multiples in each place the rows tell already.
     """
-    for at in range(len(rows)):
+    width = len(rows)
+    for at in range(width):
         if row[at] != 0:
             pivot = rows[at]
             quotient, rest = divmod(row[at], pivot[at])

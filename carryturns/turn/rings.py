@@ -1,6 +1,7 @@
 """The entries of turn numbers of one order, reckoned with; nothing is checked here."""
 
 from carryturns.base.numbers import prime_powers, units_of
+from carryturns.base.products import multiply_entries
 from carryturns.turn.polys import LOWER_TERMS, WIDTHS
 
 
@@ -35,8 +36,9 @@ class TurnRing:
         The list has an item for each power that an entry belongs to, and perhaps more.
         """
         rest = self._folded(sums)
+        length = len(rest)
         width = self._width
-        for at in reversed(range(width, len(rest))):
+        for at in reversed(range(width, length)):
             last = rest[at]
             if last != 0:
                 for to, entry in self._lower:
@@ -66,13 +68,7 @@ class TurnRing:
 
     def product(self, one, other):
         """The entries of a product."""
-        width = self._width
-        sums = [0] * (2 * width - 1)
-        for at, factor in enumerate(one):
-            if factor != 0:
-                end = at + width
-                sums[at:end] = [total + factor * entry for total, entry in zip(sums[at:end], other)]
-        return self.reduced(sums)
+        return self.reduced(multiply_entries(one, other))
 
     def powered(self, entries, exponent):
         """The entries of a power, by squaring."""

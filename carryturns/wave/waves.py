@@ -3,6 +3,7 @@
 from math import gcd
 
 from carryturns.base.numbers import check_count, check_prime, digits_of, is_integer
+from carryturns.base.products import multiply_entries
 from carryturns.errors import InvalidCharacter, InvalidCount, InvalidOperation, InvalidOrder, InvalidWave
 from carryturns.field.fields import check_element, check_field
 from carryturns.field.lists import trace_counts
@@ -70,11 +71,7 @@ def product_rows(one, other):
     gap = (0,) * (width - 1)
     first = [entry for turn in one.entries for entry in turn.entries + gap]
     second = [entry for turn in other.entries for entry in turn.entries + gap]
-    step = len(second)
-    sums = [0] * (len(first) + step)
-    for at, factor in enumerate(first):
-        if factor != 0:
-            sums[at:at + step] = [total + factor * entry for total, entry in zip(sums[at:at + step], second)]
+    sums = multiply_entries(first, second) + [0]
     length = 2 * width - 1
     return [sums[at:at + length] for at in range(0, len(sums), length)]
 
