@@ -53,10 +53,7 @@ def count_above(equation, many):
 def value_counts(tower, factor, exponent):
     """The dict that tells how often a term has a value, for all elements of a tower."""
     counts = {}
-    above = tower.embedded(factor)
-    rows = list(tower.members())
-    for element in rows:
-        value = tower.times(above, tower.raised(element, exponent))
+    for value in tower.term_values(factor, exponent):
         counts[value] = counts.get(value, 0) + 1
     return counts
 
@@ -64,9 +61,9 @@ def value_counts(tower, factor, exponent):
 def rests_behind(tower, rests, values):
     """The dict that tells how often a sum of an element and of a value is there."""
     found = {}
+    others = list(values)
     for rest in rests:
-        for value in values:
-            total = tower.plus(rest, value)
+        for value, total in zip(others, tower.sums_of(rest, others)):
             found[total] = found.get(total, 0) + rests[rest] * values[value]
     return found
 

@@ -172,13 +172,23 @@ class TowerSteps:
             return self._tables.power_of_row(one, exponent, self._poly)
         return self._powers[self._logs[one] * exponent % self._last]
 
+    def values_of(self, factor, exponent):
+        """The list of the products of a factor other than 0 and of the powers of all elements but 0."""
+        self._tell_powers()
+        log = self._logs[factor]
+        return [self._powers[(log + exponent * at) % self._last] for at in range(self._last)]
+
     def _are_powers_told(self, many):
-        if self._left > 0:
-            self._left = self._left - many
-        elif len(self._powers) == 0:
+        # The number of the products that are still made one by one.
+        self._left = self._left - many
+        if self._left < 0:
+            self._tell_powers()
+        return len(self._powers) > 0
+
+    def _tell_powers(self):
+        if len(self._powers) == 0:
             self._powers = self._tables.powers_in(self._poly)
             self._logs = {element: log for log, element in enumerate(self._powers)}
-        return len(self._powers) > 0
 
 
 class FieldSteps:
@@ -202,6 +212,12 @@ class FieldSteps:
     def raised(self, one, number):
         """The power of an element with an exponent above 0."""
         return (self._field.raised(one[0], number % (self._field.size - 1) + self._field.size - 1),)
+
+    def values_of(self, factor, exponent):
+        """The list of the products of a factor other than 0 and of the powers of all elements but 0."""
+        log = self._field.log_of(factor[0])
+        powers = self._field.all_powers()
+        return [(powers[(log + exponent * at) % len(powers)],) for at in range(len(powers))]
 
 
 def code_tuples(many, length):

@@ -79,6 +79,14 @@ class Tower:
             total = self._steps.sum_of(total, power)
         return total[0]
 
+    def sums_of(self, one, others):
+        """The list of the sums of an element and of others; nothing is checked here."""
+        return [self._steps.sum_of(one, other) for other in others]
+
+    def term_values(self, factor, exponent):
+        """The list of the products of a code other than 0 and of the powers of all elements, that of 0 first."""
+        return [self._zero] + self._steps.values_of(self.embedded(factor), exponent)
+
     def embedded(self, code):
         """The element that a code of the field is."""
         check_element(self._field, code)

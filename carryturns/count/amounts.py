@@ -3,6 +3,7 @@
 A share has for each term an index other than 0 whose character is 1 at all powers of the term.
 """
 
+from carryturns.base.numbers import units_of
 from carryturns.character.characters import sign_of
 from carryturns.total.totals import all_totals, product_of_split, split_of
 from carryturns.turn.rings import TurnRing
@@ -101,22 +102,35 @@ def is_kept(equation, at, rest):
     return equation.goal != 0 or at < len(equation.terms) - 1 or rest == 0
 
 
-def longer_sums(equation, totals, at, sums, many):
-    """The dict from the rests of indices up to a term to the sums of the products that go with them.
+def sum_with_rest(equation, totals, at, sums, many, both):
+    """The sum of the products that go with the indices up to a term whose sum leaves a rest."""
+    order = equation.order
+    ring = TurnRing(order)
+    total = ring.whole_entries(0)
+    for index in indices_for(equation)[at]:
+        rest = (both - index) % order
+        if sums[rest] is not None:
+            factor = step_factor(equation, totals, at, rest, index)
+            turned = ring.rolled(factor, value_exponent(equation, at, index))
+            total = added(total, ring.product(sums[rest], ring.powered(turned, many)))
+    return total
 
-    The dict of the sums for the indices ahead of this term is passed. All sums are told by entries.
+
+def longer_sums(equation, totals, at, sums, many):
+    """The list that has for each rest of indices up to a term the sum of the products that go with them.
+
+    The list for the indices ahead of this term is passed. All sums are told by entries, and None
+    stands where there are no such indices.
     """
     order = equation.order
     ring = TurnRing(order)
-    longer = {}
-    for index in indices_for(equation)[at]:
-        exponent = value_exponent(equation, at, index)
-        for rest, ahead in sums.items():
-            both = (rest + index) % order
-            if is_kept(equation, at, both):
-                factor = ring.rolled(step_factor(equation, totals, at, rest, index), exponent)
-                product = ring.product(ahead, ring.powered(factor, many))
-                longer[both] = added(longer[both], product) if both in longer else product
+    longer = [None] * order
+    for both in range(order):
+        if longer[both] is None and is_kept(equation, at, both):
+            total = sum_with_rest(equation, totals, at, sums, many, both)
+            # With all indices multiplied by a unit, everything is turned.
+            for unit in units_of(order):
+                longer[unit * both % order] = ring.turned_by(total, unit)
     return longer
 
 
@@ -133,10 +147,12 @@ def sum_of_weights(equation, many):
     """
     order = equation.order
     totals = all_totals(equation.field, order)
-    sums = {0: Turn.whole(order, 1).entries}
+    zero = (0,) * len(totals[0][0].entries)
+    sums = [(1,) + zero[1:]] + [None] * (order - 1)
     for at in range(len(equation.terms)):
         sums = longer_sums(equation, totals, at, sums, many)
-    total = Turn.whole(order, 0).entries
-    for rest in sums:
-        total = added(total, sums[rest])
+    total = zero
+    for last in sums:
+        if last is not None:
+            total = added(total, last)
     return integer_in(made_turn(order, None, total), 1)

@@ -7,6 +7,7 @@ from carryturns.count.amounts import all_shares, amount_with, count_shares, sum_
 from carryturns.count.classes import counts_by_class, steps_from_zero
 from carryturns.errors import InvalidElement, InvalidEquation, InvalidPaper, TooMany
 from carryturns.field.fields import check_element, check_field, check_not_zero
+from carryturns.field.lists import sums_with
 
 MAX_TERMS = 6
 MAX_TRIED = 20000
@@ -157,6 +158,12 @@ class Equation:
         return f"{terms_text(self._terms)} = {self._goal} over {self._field.size}"
 
 
+def values_of_term(field, term):
+    """The list of what a term is for each element, ascending."""
+    factor, exponent = term
+    return [field.times(factor, field.raised(element, exponent)) for element in field]
+
+
 def solutions(equation):
     """A generator of all solutions, ascending."""
     check_tried(equation)
@@ -164,14 +171,19 @@ def solutions(equation):
     size = field.size
     many = len(equation) - 1
     # For each element, the ascending last unknowns with which the last term is this element.
-    factor, exponent = equation.terms[-1]
     lasts = [[] for _ in range(size)]
-    for element in field:
-        lasts[field.times(factor, field.raised(element, exponent))].append(element)
+    for element, value in enumerate(values_of_term(field, equation.terms[-1])):
+        lasts[value].append(element)
+    # For each other unknown and each element, what the term leaves of each rest.
+    rests = []
+    for term in equation.terms[:-1]:
+        rests.append([sums_with(field, field.opposite(value)) for value in values_of_term(field, term)])
     places = first_powers(size, many)
     for number in range(places[many]):
         firsts = tuple([number // place % size for place in reversed(places[:many])])
-        rest = field.minus(equation.goal, equation.left_at(firsts + (0,)))
+        rest = equation.goal
+        for first, leaves in zip(firsts, rests):
+            rest = leaves[first][rest]
         for last in lasts[rest]:
             yield firsts + (last,)
 
