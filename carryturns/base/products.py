@@ -21,24 +21,30 @@ def multiply_entries(one, other):
 
 
 def multiply_packed(one, other, most):
-    """The same, by one product of two integers; no entry of it is above the most, or below its opposite.
+    """The same, by one product of two integers; no entry of it is above the most, or below its opposite."""
+    digits = digits_above(most)
+    product = packed(one, digits) * packed(other, digits)
+    return unpacked(product, len(one) + len(other) - 1, digits)
 
-    The integers are the values at a power of 16 that is more than twice as great.
-    """
-    many = len(one) + len(other) - 1
-    digits = most.bit_length() // 4 + 2
+
+def digits_above(most):
+    """How many digits to the base 16 tell more than twice an integer of at least 0."""
+    return most.bit_length() // 4 + 2
+
+
+def packed(entries, digits):
+    """The value of a polynomial at 16 to the power of a number of digits."""
+    total = 0
+    for entry in reversed(entries):
+        total = (total << (4 * digits)) + entry
+    return total
+
+
+def unpacked(total, many, digits):
+    """The list of the entries of a polynomial, so many, told by its value; none of them has too many digits."""
     bits = 4 * digits
     half = 1 << (bits - 1)
     # With half of the power added to each entry, none is below 0, and each one has its own digits.
-    halves = half * (((1 << (bits * many)) - 1) // ((1 << bits) - 1))
-    total = packed(one, bits) * packed(other, bits) + halves
-    text = f"{total:x}".zfill(many * digits)
+    value = total + half * (((1 << (bits * many)) - 1) // ((1 << bits) - 1))
+    text = f"{value:x}".zfill(many * digits)
     return [int(text[at:at + digits], 16) - half for at in range((many - 1) * digits, -1, -digits)]
-
-
-def packed(entries, bits):
-    """The value of a polynomial at 2 to the power of so many bits."""
-    total = 0
-    for entry in reversed(entries):
-        total = (total << bits) + entry
-    return total

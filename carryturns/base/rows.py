@@ -82,6 +82,22 @@ def multiply_modulo(prime, one, other, modulus):
     return rest_row(prime, multiply_rows(prime, one, other), modulus)
 
 
+def multiply_by_short(prime, short, entries, monic):
+    """The list of the entries of the rest of a product by a monic row, zeros at the end included.
+
+    One factor is a row of few entries, the other one is told by as many entries as the degree of the
+    monic row.
+    """
+    product = [short[-1] * entry % prime for entry in entries]
+    for factor in reversed(short[:-1]):
+        # Multiplied by X, the last entry belongs to the degree of the monic row, and goes by it.
+        last = product[-1]
+        product = [(low - last * less) % prime for low, less in zip([0] + product[:-1], monic)]
+        if factor != 0:
+            product = [(total + factor * entry) % prime for total, entry in zip(product, entries)]
+    return product
+
+
 def power_modulo(prime, row, exponent, modulus):
     """The rest of a power of a row by a modulus, by squaring."""
     power = rest_row(prime, (1,), modulus)

@@ -4,7 +4,7 @@ from carryturns.base.numbers import (
     check_count, check_integer, check_prime, digits_of, divisors, first_powers, is_integer, prime_powers,
 )
 from carryturns.base.residues import least_irreducible
-from carryturns.base.rows import code_of, multiply_modulo, power_modulo
+from carryturns.base.rows import code_of, multiply_by_short, power_modulo
 from carryturns.errors import InvalidCount, InvalidElement, InvalidField, InvalidOperation, InvalidOrder
 
 MAX_SIZE = 512
@@ -55,20 +55,29 @@ def size_of(prime, degree):
 
 def is_generator(prime, row, poly, many):
     """Whether the powers of a row modulo the polynomial are all many rows other than ()."""
-    return all([power_modulo(prime, row, many // divisor, poly) != (1,) for divisor in prime_powers(many)])
+    for divisor in prime_powers(many):
+        if power_modulo(prime, row, many // divisor, poly) == (1,):
+            return False
+    return True
+
+
+def least_generator(prime, poly, size):
+    """The digits of the least element whose powers are all elements other than 0."""
+    # In a field of a degree above 1, the powers of a residue are residues.
+    code = 1 if size == prime else prime
+    while not is_generator(prime, digits_of(code, prime), poly, size - 1):
+        code += 1
+    return digits_of(code, prime)
 
 
 def generator_powers(prime, poly, size):
     """The tuple of the codes of the powers of the generator, with the exponents from 0 to size - 2."""
-    code = 1
-    while not is_generator(prime, digits_of(code, prime), poly, size - 1):
-        code += 1
-    generator = digits_of(code, prime)
-    row = (1,)
+    generator = least_generator(prime, poly, size)
+    entries = [1] + [0] * (len(poly) - 2)
     codes = []
     for _ in range(size - 1):
-        codes.append(code_of(prime, row))
-        row = multiply_modulo(prime, row, generator, poly)
+        codes.append(code_of(prime, entries))
+        entries = multiply_by_short(prime, generator, entries, poly)
     return tuple(codes)
 
 

@@ -3,12 +3,13 @@
 from math import gcd
 
 from carryturns.base.numbers import first_powers, is_integer
+from carryturns.base.products import digits_above, packed, unpacked
 from carryturns.character.characters import are_turns, sign_of
 from carryturns.errors import InvalidCharacter, InvalidPaper, InvalidTable, InvalidTurn
 from carryturns.field.fields import check_field, check_order
 from carryturns.table.tables import class_table, frozen, is_square, is_table
-from carryturns.turn.rings import TurnRing
-from carryturns.turn.turns import Turn, integer_in, made_turn, stepped_sum, turn_of_sums
+from carryturns.turn.rings import TurnRing, width_of
+from carryturns.turn.turns import Turn, integer_in, made_turn, turn_of_sums
 
 MAX_TERMS = 6
 
@@ -179,20 +180,42 @@ def totals_by_table(field, order, table):
     return frozen(rows_of_totals(field, order, table))
 
 
+def shifted_sum(order, numbers, step, digits):
+    """The sum of packed polynomials, each times the power of z that its index and a step tell."""
+    total = 0
+    for index, number in enumerate(numbers):
+        total = total + (number << (index * step % order * 4 * digits))
+    return total
+
+
+def packed_rows(field, order, totals, digits):
+    """The list of the lists of the entries of a table, packed, as the totals make them.
+
+    The steps by columns come first, then those by rows; nothing is reduced in between.
+    """
+    places = list(range(order))
+    sums = []
+    for one, row in enumerate(totals):
+        numbers = [packed(turn.entries, digits) * sign_of(field, order, one) for turn in row]
+        sums.append([shifted_sum(order, numbers, -to, digits) for to in places])
+    return [[shifted_sum(order, [row[to] for row in sums], -at, digits) for to in places] for at in places]
+
+
 def table_by_totals(field, order, totals):
     """The table that makes the totals, if all its entries are integers."""
     check_field(field)
     check_order(field, order)
     if not is_square(order, totals) or not all([are_turns(order, row) for row in totals]):
         raise InvalidTurn("no tuple of tuples of turn numbers of the order")
-    sums = []
-    for one, row in enumerate(totals):
-        sign = sign_of(field, order, one)
-        sums.append([stepped_sum(order, row, -to).scaled(sign) for to in range(order)])
+    most = max([abs(entry) for row in totals for turn in row for entry in turn.entries])
+    digits = digits_above(most * order * order)
+    ring = TurnRing(order)
+    # Each of both steps makes the powers of z go up by less than the order.
+    many = 2 * order + width_of(order)
     table = []
-    for at in range(order):
-        columns = [stepped_sum(order, [row[to] for row in sums], -at) for to in range(order)]
-        table.append([integer_in(turn, order * order) for turn in columns])
+    for row in packed_rows(field, order, totals, digits):
+        sums = [ring.reduced(unpacked(number, many, digits)) for number in row]
+        table.append([integer_in(made_turn(order, ring, entries), order * order) for entries in sums])
     return frozen(table)
 
 
