@@ -26,7 +26,7 @@ class Products(unittest.TestCase):
                 self.assertEqual(multiply_packed(one, other, most_of(one, other)), told)
 
     def test_the_greatest_entries(self):
-        for width in (1, 5, 20, 64):
+        for width in (1, 5, 20, 64, 200):
             for most in (1, 3, 4, 15, 16, 2 ** 20, 2 ** 20 - 1):
                 for one, other in (((most,), (most,)), ((-most,), (most,)), ((most, -most), (-most,)), ((0,), (most,)), ((0,), (0,))):
                     first, second = (one * width)[:width], (other * width)[:width]

@@ -306,6 +306,8 @@ SEQUENCES = (
     (ideals.ideal_of, (3, (ZERO,) * 9), errors.InvalidTurn, None),
     (ideals.jacobi_ideal, (7, 11, 0, 0), errors.InvalidField, None),
     (ideals.jacobi_ideal, (GREAT, 11, 1, 1), errors.InvalidOrder, None),
+    (ideals.jacobi_ideal, (GREAT, 11, 0, 0), errors.InvalidOrder, None),
+    (ideals.is_only_total, (GREAT, 11, 0, 0, None), errors.InvalidOrder, None),
     (ideals.jacobi_ideal, (SEVEN, 5, 1, 1), errors.InvalidOrder, None),
     (ideals.jacobi_ideal, (SEVEN, 1, 0, 0), errors.InvalidCharacter, None),
     (ideals.jacobi_ideal, (SEVEN, 3, 0, 3), errors.InvalidCharacter, None),

@@ -49,6 +49,15 @@ class Sums(unittest.TestCase):
                     told = plain_classes.sum_j(field, order, (a, b))
                     self.assertEqual(jacobi(field, order, (a, b)).entries, told)
 
+    def test_great_totals_make_great_tables(self):
+        for field, order in ((Field(7), 3), (Field(7, 2), 24), (Field(2, 4), 15), (Field(2), 1)):
+            for number in (1, 15, 2 ** 20 - 1, 16 ** 7 - 1, 10 ** 60 - 1, 1 - 10 ** 60):
+                totals = ((Turn.whole(order, number),) * order,) * order
+                first = (number,) + (0,) * (order - 1)
+                self.assertEqual(table_by_totals(field, order, totals), (first,) + ((0,) * order,) * (order - 1))
+                long = tuple(tuple(turn.raised(3) for turn in row) for row in totals)
+                self.assertEqual(table_by_totals(field, order, long)[0][0], number ** 3)
+
     def test_sequence_does_not_matter(self):
         chance = random.Random(71)
         for field in FIELDS:
