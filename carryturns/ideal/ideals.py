@@ -57,7 +57,7 @@ def size_of_rows(rows):
 def multiples_of(order, entries):
     """The list of the entries of a turn number, times each power of z that is an entry's place."""
     ring = TurnRing(order)
-    return [ring.product(ring.root(at), entries) for at in range(len(entries))]
+    return [ring.rolled(entries, at) for at in range(len(entries))]
 
 
 def are_rows_of_ideal(order, value):
@@ -292,7 +292,7 @@ def carries_by_place(field, order, one, other):
     """The dict from the polynomials of all places over the prime to how often carries tell them."""
     place = place_of_field(field, order)
     carries = row_of_carries(field, order, one, other)
-    backs = {unit: other for unit in carries for other in carries if (unit * other - 1) % order == 0}
+    backs = {unit: back for unit in carries for back in carries if (unit * back - 1) % order == 0}
     # Units that differ by a power of the prime turn the place alike, and have as many carries.
     return {place.turned_by(backs[unit]).poly: carries[unit] for unit in carries}
 
